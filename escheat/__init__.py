@@ -1,0 +1,1 @@
+"""Escheat: a language whose memory is given back by kinds."""

@@ -1,0 +1,158 @@
+"""The rules of the language of the program that can be seen from a file."""
+
+import ast
+import pathlib
+import re
+import unittest
+
+PACKAGE = pathlib.Path(__file__).resolve().parent.parent / "escheat"
+FILES = sorted(PACKAGE.rglob("*.py"))
+
+STATEMENTS = (
+    ast.Assign, ast.AugAssign, ast.If, ast.While, ast.For, ast.Return, ast.Break, ast.Continue, ast.Pass, ast.Raise,
+    ast.Assert, ast.Delete, ast.Expr, ast.FunctionDef, ast.ClassDef, ast.ImportFrom,
+)
+BUILTINS = (
+    "len range enumerate zip min max sum abs sorted reversed int str bool list tuple dict set isinstance ord repr any all "
+    "divmod super ValueError"
+)
+BARRED = (
+    "type typing enum Enum Generic Protocol ABC namedtuple eval exec globals locals vars dir id open input register law "
+    "elements mro compile getattr setattr hasattr"
+)
+
+
+def module_name(path):
+    inner = path.relative_to(PACKAGE.parent).with_suffix("")
+    return ".".join(part for part in inner.parts if part != "__init__")
+
+
+def imports_of(tree):
+    return [node for node in ast.walk(tree) if isinstance(node, (ast.Import, ast.ImportFrom))]
+
+
+class RulesTest(unittest.TestCase):
+    def each(self):
+        for path in FILES:
+            with self.subTest(path.name):
+                text = path.read_text(encoding="utf-8")
+                yield path, text, ast.parse(text)
+
+    def test_files(self):
+        inside = [path for path in PACKAGE.rglob("*") if path.is_file() and "__pycache__" not in path.parts]
+        self.assertEqual(sorted(inside), FILES)
+        self.assertIn(PACKAGE / "__init__.py", FILES)
+        for path in FILES:
+            self.assertRegex(path.name, r"\A[a-z0-9_]+\.py\Z")
+
+    def test_characters_and_sizes(self):
+        for _, text, _ in self.each():
+            self.assertRegex(text, r"\A[ -~\n]*\Z")
+            lines = text.split("\n")
+            self.assertLess(len(lines), 400)
+            self.assertLessEqual(max(len(line) for line in lines), 120)
+
+    def test_sizes_of_functions(self):
+        for _, _, tree in self.each():
+            for node in ast.walk(tree):
+                if isinstance(node, ast.FunctionDef):
+                    self.assertLessEqual(node.end_lineno - node.lineno + 1, 40, node.name)
+
+    def test_statements(self):
+        for _, _, tree in self.each():
+            for node in ast.walk(tree):
+                if isinstance(node, ast.stmt):
+                    self.assertIsInstance(node, STATEMENTS)
+                if isinstance(node, (ast.FunctionDef, ast.ClassDef)):
+                    self.assertEqual(node.decorator_list, [])
+                self.assertNotIsInstance(node, (ast.Div, ast.GeneratorExp, ast.Yield, ast.Await))
+                if isinstance(node, ast.Constant):
+                    self.assertNotIsInstance(node.value, (float, complex, bytes))
+                    self.assertNotIn("%", str(node.value))
+
+    def test_imports(self):
+        graph = {}
+        for path, _, tree in self.each():
+            graph[module_name(path)] = set()
+            for node in imports_of(tree):
+                self.assertIsInstance(node, ast.ImportFrom)
+                self.assertEqual(node.level, 0)
+                self.assertTrue((PACKAGE.parent / (node.module.replace(".", "/") + ".py")).is_file(), node.module)
+                graph[module_name(path)].add(node.module)
+                defined = ast.parse((PACKAGE.parent / (node.module.replace(".", "/") + ".py")).read_text())
+                for alias in node.names:
+                    self.assertIsNone(alias.asname)
+                    self.assertIn(alias.name, self.names_of(defined))
+        done = set()
+        while len(done) < len(graph):
+            ready = {name for name in graph if name not in done and graph[name] <= done}
+            self.assertTrue(ready, "files import from each other")
+            done |= ready
+
+    def names_of(self, tree):
+        """The names that a module binds by itself, each of them once."""
+        names = []
+        for node in tree.body:
+            if isinstance(node, (ast.FunctionDef, ast.ClassDef)):
+                names.append(node.name)
+            if isinstance(node, ast.Assign):
+                names.extend(target.id for target in node.targets)
+        self.assertEqual(len(names), len(set(names)))
+        return names
+
+    def test_names(self):
+        for _, text, tree in self.each():
+            bound = [node.id for node in ast.walk(tree) if isinstance(node, ast.Name) and not isinstance(node.ctx, ast.Load)]
+            bound += [node.arg for node in ast.walk(tree) if isinstance(node, ast.arg)]
+            local = set(bound) | {node.name for node in ast.walk(tree) if isinstance(node, ast.FunctionDef)}
+            for name in local:
+                self.assertNotIn(name, dir(__builtins__) if not isinstance(__builtins__, dict) else __builtins__)
+                self.assertNotIn(name, BARRED.split())
+            imported = {alias.name for node in imports_of(tree) for alias in node.names}
+            self.assertEqual(imported & local, set())
+            read = {node.id for node in ast.walk(tree) if isinstance(node, ast.Name) and isinstance(node.ctx, ast.Load)}
+            self.assertNotIn("_", read)
+            self.assertEqual(imported - read, set(), "imported and not used")
+            known = read - local - imported - set(self.names_of(tree)) - set(BUILTINS.split())
+            self.assertEqual(known, set())
+            code = re.sub(r'(?s)""".*?"""|#[^\n]*', "", text)
+            for word in BARRED.split():
+                self.assertNotRegex(code, rf"\b{word}\b")
+
+    def test_module_level(self):
+        for _, _, tree in self.each():
+            for node in tree.body:
+                self.assertIsInstance(node, (ast.Expr, ast.ImportFrom, ast.FunctionDef, ast.ClassDef, ast.Assign))
+                if isinstance(node, ast.Expr):
+                    self.assertIsInstance(node.value.value, str)
+
+    def test_public_functions_and_classes_are_described(self):
+        for _, _, tree in self.each():
+            for node in ast.walk(tree):
+                if isinstance(node, (ast.FunctionDef, ast.ClassDef)) and not node.name.startswith("_"):
+                    self.assertIsNotNone(ast.get_docstring(node), node.name)
+
+
+class InterfaceTest(unittest.TestCase):
+    """Each function and class of the interface is defined in the file under which it is listed."""
+
+    PARAMETERS = {
+        "words": {
+            "split_words": ["text"], "read_numeral": ["word"], "read_program": ["text"], "write_program": ["tree"],
+            "same_tree": ["first", "second"],
+        },
+        "kinds": {
+            "with_kinds": ["tree"], "kind_size": ["kind"], "is_kind": ["kind", "count"], "field_kinds": ["datas", "number"],
+        },
+    }
+
+    def test_functions(self):
+        for module, functions in self.PARAMETERS.items():
+            tree = ast.parse((PACKAGE / f"{module}.py").read_text())
+            found = {node.name: [arg.arg for arg in node.args.args] for node in tree.body if isinstance(node, ast.FunctionDef)}
+            for name, parameters in functions.items():
+                self.assertEqual(found.get(name), parameters)
+
+
+if __name__ == "__main__":
+    unittest.main()
