@@ -68,7 +68,8 @@ def _function_holds(value, names):
     _, _, parameters, result, _ = value
     if len(parameters) > MAX_PARTS or not _are_small_names([name for name, _ in parameters]):
         return False
-    return all([is_valid_kind(kind, names) for kind in [*[kind for _, kind in parameters], result]])
+    kinds = [kind for _, kind in parameters]
+    return all([is_valid_kind(kind, names) for kind in [*kinds, result]])
 
 
 def _bodies_hold(functions):

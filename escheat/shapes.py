@@ -39,7 +39,7 @@ def is_expression(value):
 
 def inner_expressions(expression):
     """Return the list of the kids of an expression and the bodies of its arms."""
-    return [*expression[3], *[arm[2] for arm in expression[4]]]
+    return list(expression[3]) + [arm[2] for arm in expression[4]]
 
 
 def count_expressions(functions):
@@ -47,8 +47,9 @@ def count_expressions(functions):
     pending = [function[4] for function in functions]
     count = 0
     while pending:
+        expression = pending.pop()
         count += 1
-        pending.extend(inner_expressions(pending.pop()))
+        pending.extend(inner_expressions(expression))
     return count
 
 

@@ -13,7 +13,8 @@ TEXTS = (
     "(data list (Nil) (Cons int list)) (exception lost)\n"
     "(fun length ((xs list)) int (case xs ((Nil) 0) ((Cons x rest) (add 3 (length rest)))))\n"
     "(fun main ((n int)) int (handle (raise lost int n) (lost x (let f (fn (y int) y) (apply f 2)))))\n",
-    "(fun main () int (let a (array 2 (tuple 1 true)) (seq (put a 0 (tuple 2 false)) (if (get 1 (at a 1)) 3 (len a)))))",
+    "(fun main () int (let a (array 2 (tuple 1 true)) "
+    "(seq (put a 0 (tuple 2 false)) (if (get 1 (at a 1)) 3 (len a)))))",
     "(data d (D (ref (fn int bool)))) (fun main () int (let r (ref unit) (seq (set r (print 1)) (seq (deref r) 4))))",
 )
 
@@ -37,7 +38,8 @@ def nested_tuple(levels):
 
 class AnyValueTest(unittest.TestCase):
     def test_no_tree(self):
-        for value in JUNK + (deep(200), (deep(198),) * 3, nested_tuple(190), ((),) * 100000, ("a",) * 99999, "x" * 9999):
+        large = (((),) * 99999, ("a",) * 99999, "x" * 9999)
+        for value in JUNK + large + (deep(200), (deep(198),) * 3, nested_tuple(190)):
             self.assertEqual(result_of(value), 0)
 
     def test_deep_bodies(self):
@@ -108,13 +110,70 @@ class AnyValueTest(unittest.TestCase):
             walk(function[3])
 
 
+class SameFormTest(unittest.TestCase):
+    """A tree with kinds has the form of the tree, with the differences that the document lists."""
+
+    def check_expression(self, tree, typed, names):
+        op, _, info, kids, arms = tree
+        self.assertEqual((typed[0], len(typed[3]), len(typed[4])), (op, len(kids), len(arms)))
+        self.assertEqual(typed[2], self.wanted_info(op, info, names))
+        for kid, typed_kid in zip(kids, typed[3]):
+            self.check_expression(kid, typed_kid, names)
+        arms = [(names[arm[0]], arm[1], arm[2]) for arm in arms]
+        if op == "case":
+            arms = sorted(arms, key=lambda arm: arm[0])
+        for (number, variables, body), typed_arm in zip(arms, typed[4]):
+            self.assertEqual(typed_arm[:2], (number, variables))
+            self.check_expression(body, typed_arm[2], names)
+
+    def wanted_info(self, op, info, names):
+        if op in ("call", "make"):
+            return names[op, info]
+        if op == "raise":
+            return names[info[0]]
+        if op == "fn":
+            return (info[0], self.wanted_kind(info[1], names))
+        return info
+
+    def wanted_kind(self, kind, names):
+        head, what, _ = kind
+        if head == "data":
+            return (head, names["data", what], 0)
+        return (head, tuple(self.wanted_kind(part, names) for part in what), 0)
+
+    def names_of(self, tree):
+        names = {name: number for number, name in enumerate(tree[1])}
+        for number, (data, constructors) in enumerate(tree[0]):
+            names["data", data] = number
+            for index, (constructor, _) in enumerate(constructors):
+                names[constructor] = names["make", constructor] = index
+        names.update({("call", function[0]): number for number, function in enumerate(tree[2])})
+        return names
+
+    def test_same_form(self):
+        for text in TEXTS + (WHOLE,):
+            tree = read_program(text)
+            datas, exceptions, functions = with_kinds(tree)
+            names = self.names_of(tree)
+            self.assertEqual(exceptions, tree[1])
+            for (name, _, parameters, result, body), typed in zip(tree[2], functions, strict=True):
+                kinds = tuple((parameter, self.wanted_kind(kind, names)) for parameter, kind in parameters)
+                self.assertEqual(typed[:3], (name, kinds, self.wanted_kind(result, names)))
+                self.check_expression(body, typed[3], names)
+            wanted = tuple((data, tuple(
+                (constructor, tuple(self.wanted_kind(field, names) for field in fields))
+                for constructor, fields in constructors)) for data, constructors in tree[0])
+            self.assertEqual(datas, wanted)
+
+
 class IndependenceTest(unittest.TestCase):
     # Texts with other names for the same variables.
     RENAMED = (
         ("(let x 1 (let y x (add x y)))", "(let y 1 (let x y (add y x)))"),
         ("(let n 1 (let n (add n 1) n))", "(let a 1 (let b (add a 1) b))"),
         ("(case (D 1 true) ((D a b) (if b a 0)))", "(case (D 1 true) ((D b a) (if a b 0)))"),
-        ("(apply (fn (x int) (apply (fn (y int) (add x y)) 1)) 2)", "(apply (fn (y int) (apply (fn (x int) (add y x)) 1)) 2)"),
+        ("(apply (fn (x int) (apply (fn (y int) (add x y)) 1)) 2)",
+         "(apply (fn (y int) (apply (fn (x int) (add y x)) 1)) 2)"),
         ("(handle (raise Div int 1) (Div e (let f e f)))", "(handle (raise Div int 1) (Div main (let d main d)))"),
         ("(let x true (add x 1))", "(let y true (add y 1))"),
         ("(let x 1 (if x 1 2))", "(let main 1 (if main 1 2))"),

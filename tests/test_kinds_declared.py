@@ -42,25 +42,29 @@ class FormTest(DeclarationTest):
         self.assert_right(make_tree())
 
     def test_no_tree_at_all(self):
-        self.assert_refused(None, True, False, 0, 5, "", "tree", (), deep(200), (1, 2, 3), ((), FIRST), ("", FIRST, (MAIN,)))
+        self.assert_refused(None, True, False, 0, 5, "", "tree", (), deep(200), (1, 2, 3), ((), FIRST),
+            ("", FIRST, (MAIN,)))
 
     def test_parts_of_a_tree(self):
         self.assert_refused(
-            make_tree() + ((),), make_tree()[:2], make_tree(datas=None), make_tree(datas="ab"), make_tree(exceptions=None),
+            make_tree() + ((),), make_tree()[:2], make_tree(datas=None), make_tree(datas="ab"),
+            make_tree(exceptions=None),
             make_tree(exceptions="abc"), make_tree(functions=None), make_tree(functions="main"),
         )
 
     def test_form_of_data_declarations(self):
         self.assert_right(make_tree(datas=(("d", (("C", ()),)),)))
         for data in (None, "dC", (), ("d",), ("d", (("C", ()),), ()), ("d", None), ("d", "C"), ("d", (None,)),
-                     ("d", ("CD",)), ("d", (("C",),)), ("d", (("C", (), ()),)), ("d", (("C", None),)), ("d", (("C", "a"),))):
+                     ("d", ("CD",)), ("d", (("C",),)), ("d", (("C", (), ()),)), ("d", (("C", None),)),
+                     ("d", (("C", "a"),))):
             self.assert_refused(make_tree(datas=(data,)))
 
     def test_form_of_functions(self):
         f = ("f", 3, (), INT, ONE)
         self.assert_right(make_tree(functions=(f, MAIN)))
         self.assert_refused_functions(
-            None, "f", (), f[:4], f + ((),), ("f", 3, None, INT, ONE), ("f", 3, "a", INT, ONE), ("f", 3, (None,), INT, ONE),
+            None, "f", (), f[:4], f + ((),), ("f", 3, None, INT, ONE), ("f", 3, "a", INT, ONE),
+            ("f", 3, (None,), INT, ONE),
             ("f", 3, ("ab",), INT, ONE), ("f", 3, (("x",),), INT, ONE), ("f", 3, (("x", INT, 0),), INT, ONE),
         )
 
@@ -85,7 +89,8 @@ class FormTest(DeclarationTest):
         # The first kid alone is an error at 9.
         wrong = ("name", 9, "y", (), ())
         self.assertEqual(kind_fault(tree_of(("seq", 5, None, (wrong, ONE), ()))), 9)
-        self.assert_refused_bodies(("seq", 5, None, (wrong, None), ()), ("seq", 5, None, (wrong, ("int", True, 1, (), ())), ()))
+        self.assert_refused_bodies(("seq", 5, None, (wrong, None), ()),
+            ("seq", 5, None, (wrong, ("int", True, 1, (), ())), ()))
 
     def test_form_is_asked_of_later_functions_first(self):
         wrong = ("f", 3, (), INT, ("name", 9, "y", (), ()))
@@ -107,7 +112,8 @@ class FormTest(DeclarationTest):
     def test_what_else_an_expression_has_is_checked_with_its_body(self):
         for body in (
             ("int", 9, None, (), ()), ("name", 9, None, (), ()), ("name", 9, "X", (), ()), ("call", 9, ("f",), (), ()),
-            ("make", 9, 5, (), ()), ("get", 9, "0", (("tuple", 3, None, (ONE, ONE), ()),), ()), ("unit", 9, deep(90), (), ()),
+            ("make", 9, 5, (), ()), ("get", 9, "0", (("tuple", 3, None, (ONE, ONE), ()),), ()),
+            ("unit", 9, deep(90), (), ()),
             ("raise", 9, (None, None), (ONE,), ()), ("fn", 9, ("x", None), (ONE,), ()), ("other", 9, None, (), ()),
             ("handle", 8, None, (ONE,), ((deep(90), ("x",), ("int", 9, 1, (), ())),)),
         ):
@@ -124,7 +130,8 @@ class FormTest(DeclarationTest):
 
 class NameTest(DeclarationTest):
     SMALL = ("a", "z0_", "abcdefghijkl", "name", "call", "make")
-    NO_SMALL = (None, 5, True, (), "", "A", "aB", "_a", "0", "add", "int", "abcdefghijklm", "a-", "a ", "\xe4", "a%", "Div")
+    NO_SMALL = (None, 5, True, (), "", "A", "aB", "_a", "0", "add", "int", "abcdefghijklm", "a-", "a ", "\xe4", "a%",
+        "Div")
     NO_GREAT = (None, 5, True, (), "", "a", "_A", "0", "Abcdefghijklm", "A-", "\xc4")
 
     def test_small_names(self):
@@ -230,7 +237,8 @@ class DataTest(DeclarationTest):
         self.assert_refused(self.data(*[INT] * 7))
 
     def test_fields_name_their_own_and_earlier_declarations(self):
-        self.assert_right(self.data(LIST), self.data(("data", "a", 0)), self.data(("ref", (("fn", (LIST, INT), 0),), 0)))
+        self.assert_right(self.data(LIST), self.data(("data", "a", 0)),
+            self.data(("ref", (("fn", (LIST, INT), 0),), 0)))
         self.assert_refused(
             self.data(("data", "z", 0)), self.data(("ref", (("data", "z", 0),), 0)), self.data(("data", "none", 0)),
         )
@@ -269,11 +277,13 @@ class ValidKindTest(DeclarationTest):
     def test_no_kinds(self):
         for kind in (
             None, True, 5, "int", (), ("int",), ("int", ()), ("int", (), 0, 0), ("int", None, 0), ("int", (INT,), 0),
-            ("int", (), 1), ("int", (), False), ("int", (), None), ("list", (), 0), ("Int", (), 0), (None, (), 0), (deep(90), (), 0),
+            ("int", (), 1), ("int", (), False), ("int", (), None), ("list", (), 0), ("Int", (), 0), (None, (), 0),
+            (deep(90), (), 0),
             ("tuple", (), 0), ("tuple", (INT,), 0), ("tuple", (INT,) * 7, 0), ("tuple", "ab", 0), ("fn", (INT,), 0),
             ("fn", (INT, INT, INT), 0), ("ref", (), 0), ("ref", (INT, INT), 0), ("ref", INT, 0), ("array", (), 0),
             ("array", (INT, INT), 0), ("data", "none", 0), ("data", 0, 0), ("data", None, 0), ("data", "list", 1),
-            ("data", "list", False), ("data", ("list",), 0), ("data", deep(90), 0), ("ref", (("int", (), False),), 0), deep(100),
+            ("data", "list", False), ("data", ("list",), 0), ("data", deep(90), 0), ("ref", (("int", (), False),), 0),
+            deep(100),
         ):
             self.assert_refused(*self.places(kind))
 
@@ -282,7 +292,8 @@ class ExceptionTest(DeclarationTest):
     def test_the_first_three(self):
         self.assert_right(make_tree(exceptions=FIRST), make_tree(exceptions=FIRST + ("a", "b")))
         self.assert_refused(
-            make_tree(exceptions=()), make_tree(exceptions=("Div", "Index")), make_tree(exceptions=("Div", "Size", "Index")),
+            make_tree(exceptions=()), make_tree(exceptions=("Div", "Index")),
+            make_tree(exceptions=("Div", "Size", "Index")),
             make_tree(exceptions=("a",) + FIRST), make_tree(exceptions=("Div", "Index", "size")),
         )
 

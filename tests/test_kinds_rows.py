@@ -157,7 +157,8 @@ class TupleTest(RowTest):
         self.assert_kind("(get 0 (tuple 1 true))", INT)
         self.assertEqual(typed("(get 1 (tuple 1 true))")[:3], ("get", BOOL, 1))
         self.assert_refused(
-            "(get 0 ^1)", "(get 5 ^1)", "(get 0 ^(Cons 1 (Nil)))", "(get 0 ^(ref 1))", "(get 0 ^x)", "^(get 2 (tuple 1 true))",
+            "(get 0 ^1)", "(get 5 ^1)", "(get 0 ^(Cons 1 (Nil)))", "(get 0 ^(ref 1))", "(get 0 ^x)",
+            "^(get 2 (tuple 1 true))",
             "^(get 5 (tuple 1 2 3 4 5))",
         )
         pair = ("tuple", 3, None, (int_at(4), int_at(5)), ())
@@ -207,8 +208,15 @@ class CaseTest(RowTest):
             (0, (), ("name", INT, "n", (), ())), (1, ("x", "rest"), ("name", INT, "x", (), ())),
         ))
 
+    def test_the_order_is_that_of_the_constructors_alone(self):
+        text = "(data d (B int) (A) (C bool)) (fun main () int (case (A) ((C a) 3) ((B z) 1) ((A) 2)))"
+        arms = with_kinds(read_program(text))[2][0][3][4]
+        self.assertEqual([arm[:2] for arm in arms], [(0, ("z",)), (1, ()), (2, ("a",))])
+        self.assertEqual([arm[2][2] for arm in arms], [1, 2, 3])
+
     def test_the_kid(self):
-        self.assert_refused("(case ^x ((Nil) y))", "(case ^1 ((Nil) 1))", "(case ^(tuple 1 2) ((Nil) x))", "(case ^(ref (Nil)) ((Nil) 1))")
+        self.assert_refused("(case ^x ((Nil) y))", "(case ^1 ((Nil) 1))", "(case ^(tuple 1 2) ((Nil) x))",
+            "(case ^(ref (Nil)) ((Nil) 1))")
 
     def test_names_of_arms(self):
         self.assert_refused(
@@ -260,7 +268,8 @@ class ClosureTest(RowTest):
         self.assert_kind("(apply (fn (x int) true) 1)", BOOL)
         self.assert_kind("(apply (fn (x list) x) (Nil))", LIST)
         self.assert_refused(
-            "(apply ^1 2)", "(apply ^(ref 1) x)", "(apply ^x y)", "(apply (fn (x int) x) ^true)", "(apply (fn (x int) x) ^y)",
+            "(apply ^1 2)", "(apply ^(ref 1) x)", "(apply ^x y)", "(apply (fn (x int) x) ^true)",
+            "(apply (fn (x int) x) ^y)",
         )
 
 
@@ -276,7 +285,8 @@ class MemoryTest(RowTest):
     def test_set(self):
         self.assert_kind("(set (ref true) false)", UNIT)
         self.assert_refused(
-            "(set ^1 2)", "(set ^(array 1 2) 3)", "(set (ref true) ^1)", "(set ^x y)", "(set 1 ^x)", "(set (ref 1) ^(ref 1))",
+            "(set ^1 2)", "(set ^(array 1 2) 3)", "(set (ref true) ^1)", "(set ^x y)", "(set 1 ^x)",
+            "(set (ref 1) ^(ref 1))",
         )
 
     def test_array(self):
@@ -325,8 +335,10 @@ class ExceptionTest(RowTest):
 
     def test_refused_handles(self):
         self.assert_refused(
-            "(handle ^x (other y z))", "(handle 1 (other x ^y))", "(handle 1 (none x ^1))", "(handle 1 (Div x 1) (Div x ^y))",
-            "(handle 1 (Div x ^true))", "(handle true (Div x ^x))", "(handle 1 (Div x ^y))", "(handle true (Div x ^1) (Size x y))",
+            "(handle ^x (other y z))", "(handle 1 (other x ^y))", "(handle 1 (none x ^1))",
+            "(handle 1 (Div x 1) (Div x ^y))",
+            "(handle 1 (Div x ^true))", "(handle true (Div x ^x))", "(handle 1 (Div x ^y))",
+            "(handle true (Div x ^1) (Size x y))",
             "(handle 1 (Div x 1) (Size x ^true) (Size x y))",
         )
         for name in (None, 0, True, "div", ("Div",), deep(90)):
@@ -354,7 +366,8 @@ class NumberOfPartsTest(RowTest):
     KIDS = {
         "int": (0, 0), "bool": (0, 0), "unit": (0, 0), "name": (0, 0), "call": (0, 6), "make": (0, 6), "tuple": (2, 6),
         "get": (1, 1), "let": (2, 2), "if": (3, 3), "case": (1, 1), "fn": (1, 1), "apply": (2, 2), "raise": (1, 1),
-        "handle": (1, 1), "ref": (1, 1), "deref": (1, 1), "len": (1, 1), "print": (1, 1), "set": (2, 2), "array": (2, 2),
+        "handle": (1, 1), "ref": (1, 1), "deref": (1, 1), "len": (1, 1), "print": (1, 1), "set": (2, 2),
+        "array": (2, 2),
         "at": (2, 2), "seq": (2, 2), "add": (2, 2), "sub": (2, 2), "mul": (2, 2), "div": (2, 2), "rem": (2, 2),
         "equal": (2, 2), "less": (2, 2), "put": (3, 3),
     }
@@ -443,7 +456,8 @@ class KindLimitTest(RowTest):
 
     def test_tuple(self):
         self.assert_kind(f"(get 0 {self.LARGE})", ("tuple", (INT,) * 4, 0))
-        self.assert_refused(f"^{tuple_of(4, 4, 4, 4, 4, 6)}", f"^(tuple {self.MIDDLE} 1)", f"^(tuple {self.LARGE} {self.LARGE})")
+        self.assert_refused(f"^{tuple_of(4, 4, 4, 4, 4, 6)}", f"^(tuple {self.MIDDLE} 1)",
+            f"^(tuple {self.LARGE} {self.LARGE})")
 
     def test_ref_and_array(self):
         middle = typed(self.MIDDLE)[1]
@@ -464,14 +478,17 @@ class KindLimitTest(RowTest):
         self.assert_refused(f"^(raise Div (ref {large}) 1)", f"^(fn (x (ref {large})) y)")
 
     def test_after_the_other_conditions(self):
-        self.assert_refused(f"(array ^true {self.LARGE})", f"(tuple {self.LARGE} ^x)", f"(tuple 1 ^(tuple {self.LARGE} 1) x)")
+        self.assert_refused(f"(array ^true {self.LARGE})", f"(tuple {self.LARGE} ^x)",
+            f"(tuple 1 ^(tuple {self.LARGE} 1) x)")
 
 
 class ResultTest(unittest.TestCase):
     def test_the_body_has_the_result_kind(self):
         for text in (
-            "(fun main () int ^true)", "(fun f () bool ^1) (fun main () int 1)", "(fun f () (ref int) ^(ref true)) (fun main () int 1)",
-            "(fun main () int ^(let x 1 unit))", "(fun main () int (seq 1 ^x))", "(fun f () bool ^1) (fun main () int x)",
+            "(fun main () int ^true)", "(fun f () bool ^1) (fun main () int 1)",
+            "(fun f () (ref int) ^(ref true)) (fun main () int 1)",
+            "(fun main () int ^(let x 1 unit))", "(fun main () int (seq 1 ^x))",
+            "(fun f () bool ^1) (fun main () int x)",
         ):
             plain, at = split_mark(text)
             self.assertEqual(kind_fault(read_program(plain)), at)

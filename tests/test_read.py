@@ -176,7 +176,8 @@ class DeclarationTest(unittest.TestCase):
             ("f", 60, (("x", ("data", "d", 0)), ("y", INT)), BOOL, ("bool", 83, True, (), ())),
             ("main", 115, (), INT, number(127, 2)),
         )
-        self.assertEqual((text.index("g ()"), text.index("f ("), text.index("true"), text.index("main")), (18, 60, 83, 115))
+        self.assertEqual((text.index("g ()"), text.index("f ("), text.index("true"), text.index("main")),
+            (18, 60, 83, 115))
         self.assertEqual(read_program(text), (datas, FIRST + ("b", "a"), functions))
 
     def test_most_constructors_and_fields(self):

@@ -1,6 +1,7 @@
 """The rules of the language of the program that can be seen from a file."""
 
 import ast
+import builtins
 import pathlib
 import re
 import unittest
@@ -13,12 +14,12 @@ STATEMENTS = (
     ast.Assert, ast.Delete, ast.Expr, ast.FunctionDef, ast.ClassDef, ast.ImportFrom,
 )
 BUILTINS = (
-    "len range enumerate zip min max sum abs sorted reversed int str bool list tuple dict set isinstance ord repr any all "
-    "divmod super ValueError"
+    "len range enumerate zip min max sum abs sorted reversed int str bool list tuple dict set isinstance ord repr "
+    "any all divmod super ValueError"
 )
 BARRED = (
-    "type typing enum Enum Generic Protocol ABC namedtuple eval exec globals locals vars dir id open input register law "
-    "elements mro compile getattr setattr hasattr"
+    "type typing enum Enum Generic Protocol ABC namedtuple eval exec globals locals vars dir id open input register "
+    "law elements mro compile getattr setattr hasattr"
 )
 
 
@@ -102,15 +103,16 @@ class RulesTest(unittest.TestCase):
 
     def test_names(self):
         for _, text, tree in self.each():
-            bound = [node.id for node in ast.walk(tree) if isinstance(node, ast.Name) and not isinstance(node.ctx, ast.Load)]
-            bound += [node.arg for node in ast.walk(tree) if isinstance(node, ast.arg)]
-            local = set(bound) | {node.name for node in ast.walk(tree) if isinstance(node, ast.FunctionDef)}
+            names = [node for node in ast.walk(tree) if isinstance(node, ast.Name)]
+            read = {node.id for node in names if isinstance(node.ctx, ast.Load)}
+            local = {node.id for node in names if not isinstance(node.ctx, ast.Load)}
+            local |= {node.arg for node in ast.walk(tree) if isinstance(node, ast.arg)}
+            local |= {node.name for node in ast.walk(tree) if isinstance(node, ast.FunctionDef)}
             for name in local:
-                self.assertNotIn(name, dir(__builtins__) if not isinstance(__builtins__, dict) else __builtins__)
+                self.assertNotIn(name, dir(builtins))
                 self.assertNotIn(name, BARRED.split())
             imported = {alias.name for node in imports_of(tree) for alias in node.names}
             self.assertEqual(imported & local, set())
-            read = {node.id for node in ast.walk(tree) if isinstance(node, ast.Name) and isinstance(node.ctx, ast.Load)}
             self.assertNotIn("_", read)
             self.assertEqual(imported - read, set(), "imported and not used")
             known = read - local - imported - set(self.names_of(tree)) - set(BUILTINS.split())
@@ -142,14 +144,16 @@ class InterfaceTest(unittest.TestCase):
             "same_tree": ["first", "second"],
         },
         "kinds": {
-            "with_kinds": ["tree"], "kind_size": ["kind"], "is_kind": ["kind", "count"], "field_kinds": ["datas", "number"],
+            "with_kinds": ["tree"], "kind_size": ["kind"], "is_kind": ["kind", "count"],
+            "field_kinds": ["datas", "number"],
         },
     }
 
     def test_functions(self):
         for module, functions in self.PARAMETERS.items():
             tree = ast.parse((PACKAGE / f"{module}.py").read_text())
-            found = {node.name: [arg.arg for arg in node.args.args] for node in tree.body if isinstance(node, ast.FunctionDef)}
+            defined = [node for node in tree.body if isinstance(node, ast.FunctionDef)]
+            found = {node.name: [arg.arg for arg in node.args.args] for node in defined}
             for name, parameters in functions.items():
                 self.assertEqual(found.get(name), parameters)
 

@@ -69,7 +69,8 @@ class SameTreeTest(unittest.TestCase):
             ("data list", "data lost"), ("(Nil) (Cons", "(Nul) (Cons"), ("Cons int list", "Cons int bool"),
             ("exception lost", "exception last"), ("fun length", "fun longer"), ("((xs list))", "((ys list))"),
             ("((xs list))", "((xs int))"), ("((xs list)) int", "((xs list)) bool"), ("((n int))", "()"),
-            ("case xs", "case ys"), ("((Nil) 0)", "((Nil) 1)"), ("((Nil) 0)", "((None) 0)"), ("((Nil) 0)", "((Nil z) 0)"),
+            ("case xs", "case ys"), ("((Nil) 0)", "((Nil) 1)"), ("((Nil) 0)", "((None) 0)"),
+            ("((Nil) 0)", "((Nil z) 0)"),
             (" ((Nil) 0)", ""), ("Cons x rest", "Cons x more"), ("add 3", "sub 3"), ("add 3", "add x"),
             ("length rest", "length"), ("length rest", "longer rest"), ("raise lost", "raise Div"),
             ("lost int n", "lost unit n"), ("(lost x", "(Div x"), ("(lost x", "(lost y"), ("let f", "let g"),
@@ -137,7 +138,8 @@ class SameTreeTest(unittest.TestCase):
     def test_a_large_value(self):
         one = ("int", 1, 7, (), ())
         two = ("int", 2, 7, (), ())
-        self.assert_same(tree_of(("tuple", 0, None, (one,) * 10000, ())), tree_of(("tuple", 0, None, (two,) * 10000, ())))
+        self.assert_same(tree_of(("tuple", 0, None, (one,) * 10000, ())),
+            tree_of(("tuple", 0, None, (two,) * 10000, ())))
 
 
 if __name__ == "__main__":

@@ -44,6 +44,16 @@ class SplitTest(unittest.TestCase):
         self.assert_words("!~\"#$&'*+,-./:<=>?@[]\\^_`{|}", ("!~\"#$&'*+,-./:<=>?@[]\\^_`{|}", 0))
         self.assert_words("-0 007 Ab", ("-0", 0), ("007", 3), ("Ab", 7))
 
+    def test_every_character_of_a_word_and_of_a_comment(self):
+        separators = " \n\t();%"
+        for code in range(32, 127):
+            character = chr(code)
+            if character not in separators:
+                self.assert_words(f"({character}a{character})", ("(", 0), (f"{character}a{character}", 1), (")", 4))
+            if character != "%":
+                self.assert_words(f"a;b{character}c", ("a", 0))
+        self.assert_words("a;b\tc", ("a", 0))
+
     def test_every_character_of_a_text(self):
         for code in range(256):
             with self.subTest(code):

@@ -44,13 +44,15 @@ class WriteTest(unittest.TestCase):
         )
 
     def test_separators(self):
-        self.assert_written("\t(fun\nmain ( (a\tint)(b   int) )int(add;x\na b))", "(fun main ((a int) (b int)) int (add a b))\n")
+        self.assert_written("\t(fun\nmain ( (a\tint)(b   int) )int(add;x\na b))",
+            "(fun main ((a int) (b int)) int (add a b))\n")
 
     def test_every_op(self):
         bodies = (
             "0", "-1", "true", "false", "unit", "x", "(f)", "(f 1 x)", "(C)", "(C 1 x)", "(tuple 1 2)", "(get 5 x)",
             "(let x 1 x)", "(if 1 2 3)", "(case x ((C) 1) ((D a b) a))", "(fn (x (ref d)) x)", "(apply f 1)",
-            "(raise Div int 1)", "(raise e (tuple int (fn bool unit)) 1)", "(handle 1)", "(handle 1 (Index x 1) (e y 2))",
+            "(raise Div int 1)", "(raise e (tuple int (fn bool unit)) 1)", "(handle 1)",
+            "(handle 1 (Index x 1) (e y 2))",
             "(ref x)", "(deref x)", "(set x 1)", "(array 1 x)", "(at x 1)", "(put x 1 2)", "(len x)", "(print 1)",
             "(seq 1 2)", "(add 1 2)", "(sub 1 2)", "(mul 1 2)", "(div 1 2)", "(rem 1 2)", "(equal 1 2)", "(less 1 2)",
         )
@@ -106,7 +108,8 @@ class WriteTest(unittest.TestCase):
         kind = INT
         for _ in range(31):
             kind = ("ref", (kind,), 0)
-        functions = (("f", 0, (("x", kind),), kind, ("name", 0, "x", (), ())), ("main", 0, (), INT, ("int", 0, 1, (), ())))
+        functions = (("f", 0, (("x", kind),), kind, ("name", 0, "x", (), ())),
+            ("main", 0, (), INT, ("int", 0, 1, (), ())))
         tree = ((), FIRST, functions)
         self.assertIsNone(kind_fault(tree))
         shown = "(ref " * 31 + "int" + ")" * 31
