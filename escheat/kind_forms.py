@@ -1,7 +1,7 @@
 """The form of kinds, and the kinds of a tree that name data declarations."""
 
 from escheat.limits import MAX_KIND, MAX_PARTS
-from escheat.names import is_integer
+from escheat.names import is_integer, is_natural
 
 INT = ("int", (), 0)
 BOOL = ("bool", (), 0)
@@ -10,16 +10,38 @@ UNIT = ("unit", (), 0)
 # The parts of a kind with this head. A tuple has several numbers, a data kind has a name in their place.
 HEADS = {"int": 0, "bool": 0, "unit": 0, "fn": 2, "ref": 1, "array": 1}
 
+# The heads of the kinds whose values have no region.
+PLAIN = ("int", "bool", "unit")
+
 
 def kind_parts(value):
     """Return the tuple of what stands directly in a kind with region 0, or None if the value is no kind.
 
     Neither these parts nor what a data kind names are looked at.
     """
-    if not isinstance(value, tuple) or len(value) != 3:
+    if not _is_triple(value):
         return None
     head, what, region = value
-    if not isinstance(head, str) or not is_integer(region) or region != 0:
+    return _parts_of_head(head, what) if is_integer(region) and region == 0 else None
+
+
+def region_kind_parts(value):
+    """Return the same for a kind of a region program, in which the region is 0 for some heads only."""
+    if not _is_triple(value):
+        return None
+    head, what, region = value
+    if not is_natural(region) or head in PLAIN and region != 0:
+        return None
+    return _parts_of_head(head, what)
+
+
+def _is_triple(value):
+    return isinstance(value, tuple) and len(value) == 3
+
+
+def _parts_of_head(head, what):
+    """Return the tuple of what stands directly in a kind with this head, or None if the head is wrong or what is."""
+    if not isinstance(head, str):
         return None
     if head == "data":
         return ()

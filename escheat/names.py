@@ -60,3 +60,8 @@ def is_integer(value):
 def is_language_integer(value):
     """Tell whether a value of any form is an integer of the language."""
     return is_integer(value) and LEAST_INTEGER <= value <= GREATEST_INTEGER
+
+
+def is_natural(value):
+    """Tell whether a value of any form is an integer of 0 or more."""
+    return is_integer(value) and value >= 0

@@ -11,8 +11,10 @@ FILES = sorted(PACKAGE.rglob("*.py"))
 
 STATEMENTS = (
     ast.Assign, ast.AugAssign, ast.If, ast.While, ast.For, ast.Return, ast.Break, ast.Continue, ast.Pass, ast.Raise,
-    ast.Assert, ast.Delete, ast.Expr, ast.FunctionDef, ast.ClassDef, ast.ImportFrom,
+    ast.Assert, ast.Delete, ast.Expr, ast.FunctionDef, ast.ClassDef, ast.ImportFrom, ast.Try,
 )
+# A try has one handler, without a name for the error, for one of these.
+CAUGHT = ("FlatError", "RegionError")
 BUILTINS = (
     "len range enumerate zip min max sum abs sorted reversed int str bool list tuple dict set isinstance ord repr "
     "any all divmod super ValueError"
@@ -20,6 +22,11 @@ BUILTINS = (
 BARRED = (
     "type typing enum Enum Generic Protocol ABC namedtuple eval exec globals locals vars dir id open input register "
     "law elements mro compile getattr setattr hasattr"
+)
+
+BARRED_ATTRIBUTES = (
+    "items keys values pop update append clear extend insert remove reverse setdefault sort args encode decode hex "
+    "fromhex format"
 )
 
 
@@ -66,6 +73,10 @@ class RulesTest(unittest.TestCase):
                     self.assertIsInstance(node, STATEMENTS)
                 if isinstance(node, (ast.FunctionDef, ast.ClassDef)):
                     self.assertEqual(node.decorator_list, [])
+                if isinstance(node, ast.Try):
+                    (handler,) = node.handlers
+                    self.assertIn(handler.type.id, CAUGHT)
+                    self.assertEqual((handler.name, node.orelse, node.finalbody), (None, [], []))
                 self.assertNotIsInstance(node, (ast.Div, ast.GeneratorExp, ast.Yield, ast.Await))
                 if isinstance(node, ast.Constant):
                     self.assertNotIsInstance(node.value, (float, complex, bytes))
@@ -120,6 +131,18 @@ class RulesTest(unittest.TestCase):
             code = re.sub(r'(?s)""".*?"""|#[^\n]*', "", text)
             for word in BARRED.split():
                 self.assertNotRegex(code, rf"\b{word}\b")
+
+    def test_attributes_and_methods(self):
+        attributes, methods = set(), set()
+        for _, _, tree in self.each():
+            for node in ast.walk(tree):
+                if isinstance(node, ast.ClassDef):
+                    methods |= {part.name for part in node.body if isinstance(part, ast.FunctionDef)}
+                if isinstance(node, ast.Attribute) and isinstance(node.ctx, ast.Store):
+                    attributes.add(node.attr)
+        # A name that is both would be allowed in different classes, but it misleads.
+        self.assertEqual(attributes & methods, set())
+        self.assertEqual((attributes | methods) & set(BARRED_ATTRIBUTES.split()), set())
 
     def test_module_level(self):
         for _, _, tree in self.each():
