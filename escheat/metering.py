@@ -79,7 +79,7 @@ class MeteredRun(FlatRun):
             self.meter.add_cell(instance, _words_of_cell(step, parts))
             self.give(Cell(parts, instance))
 
-    def touches(self, cell):
+    def touch(self, cell):
         """Read or write a cell and return True, or end the run and return False if its instance has ended."""
         if not self.meter.is_held(cell.instance):
             self.outcome.fault = ("touch",)

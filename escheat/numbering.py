@@ -28,7 +28,7 @@ def _join_untouched(naming):
     """Make the names equal that are no formals and are never touched: one region is enough for them."""
     names = naming.names
     touched = {names.leader(name): True for name, _ in naming.all_touches()}
-    homes = naming.homes()
+    homes = naming.home_blocks()
     untouched = [leader for leader in homes if leader not in touched and not naming.is_formal(leader)]
     for leader in untouched:
         names.make_equal(leader, untouched[0])
@@ -38,7 +38,7 @@ class Numbering:
     """The numbers of the regions of a function whose names are settled.
 
     - formals: the leaders of the names of the formals, in the order of their numbers.
-    - touch: the numbers of the formals that the function touches.
+    - touched_formals: the numbers of the formals that the function touches.
     - numbers: the numbers of all regions, by the leaders of their names.
     - starts: the lists of the regions that begin directly before the steps with these paths.
     """
@@ -48,7 +48,7 @@ class Numbering:
         self.names = naming.names
         self.formals = [place for place in range(naming.places) if naming.names.leader(place) == place]
         touched = naming.outer_touches()
-        self.touch = tuple([number for number, leader in enumerate(self.formals) if leader in touched])
+        self.touched_formals = tuple([number for number, leader in enumerate(self.formals) if leader in touched])
         self.numbers = {leader: number for number, leader in enumerate(self.formals)}
         self.starts = {}
         for path, leader in self.first_mentions():
@@ -61,7 +61,7 @@ class Numbering:
 
         The step lies in the innermost block that contains all mentions of the region, and is the first there.
         """
-        homes = self.naming.homes()
+        homes = self.naming.home_blocks()
         firsts = {}
         for name, path in self.naming.mentions:
             leader = self.names.leader(name)
@@ -73,7 +73,8 @@ class Numbering:
         """Return the function with numbers in the place of the names."""
         name, _, _, kinds, result, body = named
         kinds = tuple([self.numbered_kind(kind) for kind in kinds])
-        return (name, len(self.formals), self.touch, kinds, self.numbered_kind(result), self.numbered_block(body))
+        result = self.numbered_kind(result)
+        return (name, len(self.formals), self.touched_formals, kinds, result, self.numbered_block(body))
 
     def number_of(self, name):
         """Return the number of the region with a name."""
@@ -98,7 +99,7 @@ class Numbering:
 
     def numbered_use(self, callee, use):
         """Return the use of a call, in which no region is handed over for good."""
-        touch = self.touch
+        touch = self.touched_formals
         if callee == self.naming.known.number:
             # One of the places at which the formal stands is enough: the names are equal at the others.
             use = [use[leader] for leader in self.formals]

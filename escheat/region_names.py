@@ -140,7 +140,7 @@ class Naming(Walk):
 
     def settle_closures(self):
         """Give the regions that a closure touches and does not begin the name of its own; tell whether any changed."""
-        homes = self.homes()
+        homes = self.home_blocks()
         changed = False
         for name, closure in self.all_touches():
             leader = self.names.leader(name)
@@ -179,7 +179,7 @@ class Naming(Walk):
         """Return the list of the places whose leaders are among the touched names."""
         return [place for place in range(self.places) if self.names.leader(place) in touched]
 
-    def homes(self):
+    def home_blocks(self):
         """Return a dict from the leaders to the paths of the innermost blocks that contain all their mentions."""
         homes = {}
         for name, path in self.mentions:

@@ -124,7 +124,7 @@ class FlatRun:
         """Make a cell for a step, which has it as its value."""
         self.give(Cell(parts, None))
 
-    def touches(self, cell):
+    def touch(self, cell):
         """Read or write a cell, and tell whether the run goes on."""
         return True
 
@@ -166,7 +166,7 @@ def _tuple(run, frame, step, values):
 
 
 def _get(run, frame, step, values):
-    if run.touches(values[0]):
+    if run.touch(values[0]):
         run.give(values[0].parts[step[4]])
 
 
@@ -182,20 +182,20 @@ def _fn(run, frame, step, values):
 
 def _apply(run, frame, step, values):
     closure, argument = values
-    if run.outcome.spend(1) and run.touches(closure):
+    if run.outcome.spend(1) and run.touch(closure):
         maker, variables = closure.parts
         inner = Frame(dict(variables), run.handles_of_closure(closure))
         run.enter(inner, maker[7][0], 0, (argument,))
 
 
 def _deref(run, frame, step, values):
-    if run.touches(values[0]):
+    if run.touch(values[0]):
         run.give(values[0].parts[0])
 
 
 def _set(run, frame, step, values):
     reference, value = values
-    if run.touches(reference):
+    if run.touch(reference):
         reference.parts[0] = value
         run.give(None)
 
@@ -210,7 +210,7 @@ def _array(run, frame, step, values):
 
 def _at(run, frame, step, values):
     array, index = values
-    if run.touches(array):
+    if run.touch(array):
         if not 0 <= index < len(array.parts):
             run.throw(INDEX, index)
         else:
@@ -219,7 +219,7 @@ def _at(run, frame, step, values):
 
 def _put(run, frame, step, values):
     array, index, value = values
-    if run.touches(array):
+    if run.touch(array):
         if not 0 <= index < len(array.parts):
             run.throw(INDEX, index)
         else:
@@ -228,7 +228,7 @@ def _put(run, frame, step, values):
 
 
 def _len(run, frame, step, values):
-    if run.touches(values[0]):
+    if run.touch(values[0]):
         run.give(len(values[0].parts))
 
 
@@ -257,7 +257,7 @@ def _if(run, frame, step, values):
 
 def _case(run, frame, step, values):
     number, *fields = values[0].parts
-    if not fields or run.touches(values[0]):
+    if not fields or run.touch(values[0]):
         run.enter(frame, step[7][number], number, fields)
 
 
