@@ -66,13 +66,13 @@ def end_of(region):
 
 
 def earlier(program):
-    """The programs of the point "Early" in which an end step stands one place further up."""
+    """The programs of the point "Early", each with a word for the way in which a region ends earlier."""
     for path in list(blocks_of(program)):
         steps = steps_at(program, path)
         for index in range(1, len(steps)):
             if is_end(steps[index]) and not is_end(steps[index - 1]):
                 moved = steps[:index - 1] + (steps[index], steps[index - 1]) + steps[index + 1:]
-                yield with_steps(program, path, moved)
+                yield "up", with_steps(program, path, moved)
         for index, step in enumerate(steps):
             if step[0] in ("if", "case"):
                 yield from before_branches(program, path, index)
@@ -85,7 +85,7 @@ def before_branches(program, path, index):
     step = steps[index]
     for region in sorted({region for block in step[7] for region in leading_ends(block)}):
         changed = step[:7] + (tuple(without_ends(block, region) for block in step[7]),)
-        yield with_steps(program, path, steps[:index] + (end_of(region), changed) + steps[index + 1:])
+        yield "out", with_steps(program, path, steps[:index] + (end_of(region), changed) + steps[index + 1:])
 
 
 def into_bodies(program, path, index):
@@ -96,7 +96,7 @@ def into_bodies(program, path, index):
         arms = tuple(without_ends(block, region) for block in step[7][1:])
         kept = tuple(other for other in step[6] if other != region)
         changed = step[:6] + (kept, ((bind, inner + (end_of(region),), value),) + arms)
-        yield with_steps(program, path, steps[:index] + (changed,) + steps[index + 1:])
+        yield "into", with_steps(program, path, steps[:index] + (changed,) + steps[index + 1:])
 
 
 def later(program):

@@ -170,13 +170,25 @@ class InterfaceTest(unittest.TestCase):
             "with_kinds": ["tree"], "kind_size": ["kind"], "is_kind": ["kind", "count"],
             "field_kinds": ["datas", "number"],
         },
+        "plain": {"run": ["program", "arguments", "*fuel"]},
+        "flat": {"flatten": ["tree"], "check": ["program"], "run": ["program", "arguments", "*fuel"]},
+        "regions": {
+            "check": ["program"], "erase": ["program"], "captured": ["block"], "run": ["program", "arguments", "*fuel"],
+        },
+        "place": {
+            "find": ["program"], "coarse": ["program"], "build": ["program"],
+            "keeper": ["program", "place", "region"],
+        },
     }
 
     def test_functions(self):
         for module, functions in self.PARAMETERS.items():
             tree = ast.parse((PACKAGE / f"{module}.py").read_text())
             defined = [node for node in tree.body if isinstance(node, ast.FunctionDef)]
-            found = {node.name: [arg.arg for arg in node.args.args] for node in defined}
+            found = {
+                node.name: [arg.arg for arg in node.args.args] + ["*" + arg.arg for arg in node.args.kwonlyargs]
+                for node in defined
+            }
             for name, parameters in functions.items():
                 self.assertEqual(found.get(name), parameters)
 
