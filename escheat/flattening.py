@@ -1,5 +1,7 @@
 """Turning the functions of trees with kinds into steps."""
 
+from escheat.scopes import inner_scope
+
 
 def flat_function(function):
     """Return the function of a flat program for a function of a tree with kinds."""
@@ -25,7 +27,7 @@ class Flattening:
         """Return the block of an expression, which binds variables with these names."""
         bind = tuple([self.fresh() for _ in names])
         steps = []
-        value = self.add_steps(expression, _inner(scope, names, bind), steps)
+        value = self.add_steps(expression, inner_scope(scope, names, bind), steps)
         return (bind, tuple(steps), value)
 
     def add_steps(self, expression, scope, steps):
@@ -35,7 +37,7 @@ class Flattening:
             return scope[info]
         if op == "let":
             value = self.add_steps(kids[0], scope, steps)
-            return self.add_steps(kids[1], _inner(scope, (info,), (value,)), steps)
+            return self.add_steps(kids[1], inner_scope(scope, (info,), (value,)), steps)
         if op == "seq":
             self.add_steps(kids[0], scope, steps)
             return self.add_steps(kids[1], scope, steps)
@@ -59,14 +61,6 @@ class Flattening:
             blocks = [body, ((value,), (), value)]
         blocks.extend([self.flat_block(body, names, scope) for _, names, body in arms])
         return tuple(blocks)
-
-
-def _inner(scope, names, variables):
-    """Return a scope in which names hide the outer ones that are equal."""
-    inner = dict(scope)
-    for name, variable in zip(names, variables):
-        inner[name] = variable
-    return inner
 
 
 def _straight_kids(op, kids):

@@ -37,5 +37,5 @@ def regions_of(kind):
         if head not in PLAIN:
             regions.append(region)
         if head != "data":
-            pending.extend(reversed(what))
+            pending.extend(list(reversed(what)))
     return regions

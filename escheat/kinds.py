@@ -6,6 +6,7 @@ from escheat.kind_forms import BOOL, INT, UNIT, kind_parts
 from escheat.limits import MAX_KIND
 from escheat.names import is_integer, is_language_integer
 from escheat.ops import WITH_INFO, allows_arms, allows_kids, is_op
+from escheat.scopes import inner_scope
 from escheat.straight import expect, straight_kind
 
 
@@ -68,14 +69,6 @@ def _check(expression, scope, declared):
     checked = rule(expression, scope, declared)
     expect(kind_size(checked[1]) <= MAX_KIND, expression)
     return checked
-
-
-def _bind(scope, variables, kinds):
-    """Return a scope in which variables hide the outer ones of their names."""
-    inner = dict(scope)
-    for variable, kind in zip(variables, kinds):
-        inner[variable] = kind
-    return inner
 
 
 def _check_straight(expression, scope, declared):
@@ -144,7 +137,7 @@ def _check_get(expression, scope, declared):
 def _check_let(expression, scope, declared):
     _, _, name, (value, body), _ = expression
     value = _check(value, scope, declared)
-    body = _check(body, _bind(scope, (name,), (value[1],)), declared)
+    body = _check(body, inner_scope(scope, (name,), (value[1],)), declared)
     return ("let", body[1], name, (value, body), ())
 
 
@@ -160,7 +153,7 @@ def _check_fn(expression, scope, declared):
     _, _, (name, written), (body,), _ = expression
     expect(declared.is_written_kind(written), expression)
     kind = declared.numbered(written)
-    body = _check(body, _bind(scope, (name,), (kind,)), declared)
+    body = _check(body, inner_scope(scope, (name,), (kind,)), declared)
     return ("fn", ("fn", (kind, body[1]), 0), (name, kind), (body,), ())
 
 
@@ -210,7 +203,7 @@ def _check_arms(arms, patterns, kind, scope, declared):
         expect(isinstance(name, str) and name in patterns, body)
         number, kinds = patterns[name]
         expect(number not in checked and len(variables) == len(kinds) == len(set(variables)), body)
-        inner = _check(body, _bind(scope, variables, kinds), declared)
+        inner = _check(body, inner_scope(scope, variables, kinds), declared)
         kind = inner[1] if kind is None else kind
         expect(inner[1] == kind, body)
         checked[number] = (number, variables, inner)

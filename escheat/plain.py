@@ -10,6 +10,7 @@ and still needed. A task is a tuple (word, expression, scope):
 from escheat.arithmetic import DIV, INDEX, SIZE, compute, divides_by_zero, wrap
 from escheat.limits import MAX_ARRAY, MAX_FUEL
 from escheat.outcome import Outcome
+from escheat.scopes import inner_scope
 
 # The ops that do not evaluate all of their kids before they go on, with the number of those that they do.
 EARLY = {"let": 1, "if": 1}
@@ -80,7 +81,7 @@ class Evaluation:
                 for name, variables, body in expression[4]:
                     if name == number:
                         del self.done[many:]
-                        self.begin(body, _inner(around, variables, [payload]))
+                        self.begin(body, inner_scope(around, variables, [payload]))
                         return
         self.outcome.fault = ("raised", self.exceptions[number], payload)
 
@@ -88,14 +89,6 @@ class Evaluation:
 def _bound(parameters, values):
     """Return the scope of a function's body."""
     return {name: value for (name, _), value in zip(parameters, values)}
-
-
-def _inner(scope, variables, values):
-    """Return a scope in which variables hide the outer ones of their names."""
-    inner = dict(scope)
-    for variable, value in zip(variables, values):
-        inner[variable] = value
-    return inner
 
 
 def _begin_kids(evaluation, expression, scope):
@@ -148,7 +141,7 @@ def _end_get(evaluation, expression, scope, values):
 
 
 def _end_let(evaluation, expression, scope, values):
-    evaluation.begin(expression[3][1], _inner(scope, (expression[2],), values))
+    evaluation.begin(expression[3][1], inner_scope(scope, (expression[2],), values))
 
 
 def _end_if(evaluation, expression, scope, values):
@@ -159,13 +152,13 @@ def _end_if(evaluation, expression, scope, values):
 def _end_case(evaluation, expression, scope, values):
     number, fields = values[0]
     _, variables, body = expression[4][number]
-    evaluation.begin(body, _inner(scope, variables, fields))
+    evaluation.begin(body, inner_scope(scope, variables, fields))
 
 
 def _end_apply(evaluation, expression, scope, values):
     (variable, body, around), argument = values
     if evaluation.outcome.spend(1):
-        evaluation.begin(body, _inner(around, (variable,), [argument]))
+        evaluation.begin(body, inner_scope(around, (variable,), [argument]))
 
 
 def _end_ref(evaluation, expression, scope, values):

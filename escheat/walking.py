@@ -1,5 +1,6 @@
 """Visiting the steps of a function in the order of the text: a step before its blocks, a block's end behind them."""
 
+from escheat.scopes import inner_scope
 from escheat.step_rules import Known, bound_kinds, value_kind
 
 
@@ -35,10 +36,7 @@ class Walk:
         self.at_step(path, step, kinds)
         bound = bound_kinds(step, [kinds[variable] for variable in step[3]], self.known.datas)
         for index, block in enumerate(step[7]):
-            inner = dict(kinds)
-            for variable, kind in zip(block[0], bound[index]):
-                inner[variable] = kind
-            found = self.walk_inner(path, step, index, inner)
+            found = self.walk_inner(path, step, index, inner_scope(kinds, block[0], bound[index]))
             if step[0] == "handle" and index == 0:
                 self.at_normal_arm(path, found)
                 bound[1] = (found,)

@@ -24,6 +24,8 @@ BARRED = (
     "law elements mro compile getattr setattr hasattr"
 )
 
+# The methods of builtin values that are needed.
+METHODS = "append count extend get index items join pop removeprefix setdefault values"
 BARRED_ATTRIBUTES = (
     "items keys values pop update append clear extend insert remove reverse setdefault sort args encode decode hex "
     "fromhex format"
@@ -143,6 +145,37 @@ class RulesTest(unittest.TestCase):
         # A name that is both would be allowed in different classes, but it misleads.
         self.assertEqual(attributes & methods, set())
         self.assertEqual((attributes | methods) & set(BARRED_ATTRIBUTES.split()), set())
+
+    def test_iterated_at_once(self):
+        """What zip, enumerate, reversed and the views of dicts give is iterated on the spot."""
+        for _, _, tree in self.each():
+            parents = {kid: node for node in ast.walk(tree) for kid in ast.iter_child_nodes(node)}
+            for node in ast.walk(tree):
+                if not isinstance(node, ast.Call):
+                    continue
+                name = node.func.id if isinstance(node.func, ast.Name) else getattr(node.func, "attr", "")
+                around = parents[node]
+                if name in ("zip", "enumerate", "reversed", "items", "keys", "values"):
+                    takers = ("list", "tuple", "dict", "sorted", "sum", "any", "all", "enumerate", "zip")
+                    self.assertTrue(
+                        isinstance(around, (ast.For, ast.comprehension)) and around.iter is node
+                        or isinstance(around, ast.Call) and getattr(around.func, "id", "") in takers
+                        and around.args[0] is node, ast.unparse(around))
+                if name == "range" and not isinstance(around, (ast.For, ast.comprehension, ast.Assign)):
+                    self.assertIn(around.func.id, ("list", "reversed"))
+                if name == "set":
+                    sorts = isinstance(around, ast.BinOp) and parents[around].func.id == "sorted"
+                    self.assertTrue(sorts or around.func.id in ("len", "sorted"))
+
+    def test_methods_that_are_called(self):
+        own, called = set(), set()
+        for _, _, tree in self.each():
+            for node in ast.walk(tree):
+                if isinstance(node, ast.ClassDef):
+                    own |= {part.name for part in node.body if isinstance(part, ast.FunctionDef)}
+                if isinstance(node, ast.Call) and isinstance(node.func, ast.Attribute):
+                    called.add(node.func.attr)
+        self.assertEqual(called - own - set(METHODS.split()), set())
 
     def test_module_level(self):
         for _, _, tree in self.each():
