@@ -13,7 +13,7 @@ class Meter:
     def __init__(self):
         self.words = []
         self.events = []
-        self.held = 0
+        self.total = 0
         self.peak = 0
 
     def is_held(self, instance):
@@ -29,20 +29,20 @@ class Meter:
     def add_cell(self, instance, words):
         """Make a cell in an instance that has not ended."""
         self.words[instance] += words
-        self.held += words
-        self.peak = max(self.peak, self.held)
+        self.total += words
+        self.peak = max(self.peak, self.total)
         self.note("cell", instance, words)
 
     def end(self, instance):
         """End an instance that has not ended."""
         words = self.words[instance]
         self.words[instance] = None
-        self.held -= words
+        self.total -= words
         self.note("end", instance, words)
 
     def note(self, what, instance, words):
         """Append an event."""
-        self.events.append((what, instance, words, self.held))
+        self.events.append((what, instance, words, self.total))
 
 
 class MeteredRun(FlatRun):
@@ -57,7 +57,7 @@ class MeteredRun(FlatRun):
 
     def metered(self):
         """Return the metered run."""
-        return (self.outcome.result(), self.meter.peak, self.meter.held, tuple(self.meter.events))
+        return (self.outcome.result(), self.meter.peak, self.meter.total, tuple(self.meter.events))
 
     def begin_region(self, frame, region):
         """Begin an instance, which the frame owns."""

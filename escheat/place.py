@@ -40,7 +40,6 @@ def coarse(program):
 
 def build(program):
     """Return what find returns if it is safe, and the coarse program otherwise, or raise FlatError."""
-    check_flat(program)
     found = find(program)
     try:
         check_regions(found)

@@ -114,7 +114,8 @@ class Placing:
         blocks = step[7]
         arms = [region for index in range(1, len(blocks)) for region in self.inside_block(path, step, index)]
         kept = _united(after, arms)
-        body = self.place_inner(path, step, 0, _united(kept, self.inside_block(path, step, 0)), kept)
+        # What is live at the start of the body is needed in it or kept: nothing ends there.
+        body = self.place_inner(path, step, 0, (), kept)
         placed = [self.place_inner(path, step, index, kept, after) for index in range(1, len(blocks))]
         return _with_blocks(step[:6] + (kept, blocks), [body, *placed])
 
@@ -174,6 +175,6 @@ def _handing_over(step, over):
     regions = [region for region, _ in step[6]]
     use = []
     for region, mode in step[6]:
-        last = mode == "keep" and region in over and regions.count(region) == 1
-        use.append((region, "last" if last else mode))
+        # What is over is touched, so its only pair has the mode "keep" so far.
+        use.append((region, "last" if region in over and regions.count(region) == 1 else mode))
     return step[:6] + (tuple(use), step[7])

@@ -78,8 +78,8 @@ class ScopeCheck(Walk):
             self.taken[region] = path[:-1]
             self.regions[region] = path[:-1]
             return
+        expect(self.are_in_scope(named_regions(step)), path, "scope")
         found = [kinds[variable] for variable in ins]
-        expect(self.are_in_scope(named_regions(step, found, self.known)), path, "scope")
         expect(op == "end" or step_holds(step, found, self.known), path, "kind")
 
     def at_normal_arm(self, path, kind):

@@ -54,7 +54,7 @@ def _is_function(value):
     if not is_tuple_of(value, 6):
         return False
     _, formals, touch, kinds, result, body = value
-    if not is_natural(formals) or formals > MAX_REGIONS or not isinstance(kinds, tuple):
+    if not is_natural(formals) or not isinstance(kinds, tuple):
         return False
     if not _are_ascending(touch) or not all([formal < formals for formal in touch]):
         return False

@@ -105,7 +105,7 @@ class Naming(Walk):
         found = [kinds[variable] for variable in step[3]]
         for one, other in equal_kinds(step, found, self.known):
             self.make_equal(one, other)
-        self.mentions.extend([(name, path) for name in named_regions(step, found, self.known)])
+        self.mentions.extend([(name, path) for name in named_regions(step)])
         self.touches.extend([(name, self.closure) for name in touched_regions(step, found, self.known)])
         if step[0] == "call" and step[4] == self.known.number:
             self.own_calls.append(([name for name, _ in step[6]], self.closure))

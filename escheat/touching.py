@@ -1,13 +1,16 @@
 """Which regions a step of a region program names, touches and uses up."""
 
 from escheat.kind_regions import regions_of
-from escheat.step_rules import bound_kinds, field_kinds_at
+from escheat.step_rules import field_kinds_at
 from escheat.steps import READING_OPS, makes_cell
 from escheat.walking import Walk
 
 
-def named_regions(step, kinds, known):
-    """Return the list of the regions that must be in scope at a step whose ins have these kinds."""
+def named_regions(step):
+    """Return the list of the regions that must be in scope at a step.
+
+    The variables that the blocks of a case bind have the region of its in, which is in scope where the in is.
+    """
     op, _, kind, _, _, region, use, _ = step
     regions = regions_of(kind)
     if makes_cell(step) or op == "end":
@@ -16,9 +19,6 @@ def named_regions(step, kinds, known):
         regions.extend([each for each, _ in use])
     if op == "handle":
         regions.extend(use)
-    if op == "case":
-        for fields in bound_kinds(step, kinds, known.datas):
-            regions.extend([each for field in fields for each in regions_of(field)])
     return regions
 
 

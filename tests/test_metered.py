@@ -222,6 +222,22 @@ class CallsTest(MeterTest):
         self.check(value, [("new", 0), ("cell", 0, 2), ("touch", 0), ("new", 1), ("cell", 1, 2), ("touch", 1), ("end", 1),
                            ("touch", 0), ("end", 0)], result=(None, 7, (), 2))
 
+    def test_handle_that_stays(self):
+        """The handle that does not own is still there behind the call, so a cell can be made."""
+        middle = function((call(1, (0,), 0, (0, "last")), pair(2, 0, 1, 1), end(0)), 1, kinds=(in_pair(0),), formals=1,
+                          touch=(0,), name="g")
+        steps = (new(4), pair(1, 4), call(2, (1,), 1, (4, "keep")), end(4))
+        value = program(self.CALLEE, middle, function(steps, 2, name="main", kinds=(INT,)))
+        self.check(value, [("new", 0), ("cell", 0, 2), ("touch", 0), ("new", 1), ("cell", 1, 2), ("touch", 1), ("end", 1),
+                           ("cell", 0, 2), ("end", 0)], result=(None, 7, (), 2))
+
+    def test_handle_on_what_has_ended(self):
+        """A second handle on the same instance is there when the instance has ended, and makes no cell."""
+        callee = function((end(1), pair(1, 0, 0, 0), end(0)), 0, kinds=(INT,), formals=2, touch=(0, 1))
+        steps = (new(4), call(2, (0,), 0, (4, "keep"), (4, "last")))
+        self.check(program(callee, function(steps, 2, name="main", kinds=(INT,))), [("new", 0), ("end", 0)],
+                   result=(("touch",), 0, (), 1))
+
     def test_last_twice(self):
         """A region that is handed over for good is gone at once, for the later formals as well."""
         callee = function((get(2, 1), end(0), end(1)), 2, kinds=(in_pair(0), in_pair(1)), formals=2, touch=(0, 1))

@@ -1,5 +1,6 @@
 """The regions that are found: safe, early, late, handed on, fine, and with constant space; coarse and build."""
 
+import random
 import unittest
 from unittest import mock
 
@@ -11,6 +12,7 @@ from tests.helpers import INT, UNIT, replace
 from tests.programs import (
     block, end, flat_fault, flattened, found, function, in_pair, main_of, new, number, pair, program, region_fault, step,
 )
+from tests.random_steps import with_more_steps
 from tests.random_trees import Maker
 
 LIST = "(data list (Nil) (Cons int list)) "
@@ -55,6 +57,8 @@ TEXTS = (
     "(data box (Box (tuple int int) (fn int int)) (No)) (fun main ((n int)) int "
     "(case (Box (tuple n 2) (fn (x int) (mul x n))) ((No) 0) ((Box t f) (apply f (get 1 t)))))",
     "(fun main ((n int)) int (if (less n 1) n (get 0 (tuple (main (sub n 1)) n))))",
+    "(fun f ((t (tuple int int)) (n int)) int (if (less n 1) (get 0 t) (apply (fn (x int) (f t (sub x 1))) n))) "
+    "(fun main ((n int)) int (f (tuple n n) n))",
 )
 
 
@@ -68,11 +72,13 @@ def cells(program, number):
 
 
 def random_programs(seeds):
+    """Random flat programs, half of them with steps that flatten would not make."""
     for seed in seeds:
         try:
-            yield flat.flatten(with_kinds(Maker(seed).tree()))
+            value = flat.flatten(with_kinds(Maker(seed).tree()))
         except KindError:
-            pass
+            continue
+        yield with_more_steps(value, random.Random(seed), 0.2) if seed % 2 else value
 
 
 class PointsTest(unittest.TestCase):
@@ -80,7 +86,11 @@ class PointsTest(unittest.TestCase):
 
     @classmethod
     def setUpClass(cls):
-        cls.programs = [flattened(text) for text in TEXTS] + list(random_programs(range(500, 540)))
+        made = list(random_programs(range(500, 536)))
+        # Where there would be too many regions, nothing is promised but that the program is safe.
+        few = [value for value in made if place.find(value) != place.coarse(value)]
+        assert len(few) > len(made) - 4
+        cls.programs = [flattened(text) for text in TEXTS] + few
         cls.placed = [place.find(program) for program in cls.programs]
 
     def rejected(self, value):
@@ -187,6 +197,28 @@ class WhereTest(unittest.TestCase):
         self.assertEqual(self.main_steps("(get 0 (handle (tuple n n) (Div x (raise Size (tuple int int) 2))))"), [
             "new0", "handle", ["tuple"], [], ["int", "raise"], "get", "end0"])
 
+    def test_normal_arm(self):
+        """The normal arm of a handle step may have steps, too."""
+        arm = step("get", 5, INT, (4,), 0)
+        handle = step("handle", 9, INT, (), (0,), blocks=(
+            block((step("raise", 3, in_pair(0), (0,), 0),), 3), block((arm,), 5, (4,)), block((), 6, (6,))))
+        placed = place.find(main_of((handle,), 9))
+        self.assertIsNone(regions.check(placed))
+        self.assertEqual(self.words(placed[2][0][5]), ["new0", "handle", ["raise"], ["get", "end0"], ["end0"]])
+        # A tuple from outside that only the normal arm reads, and one that the body alone makes.
+        reads = block((step("get", 5, INT, (1,), 0), step("get", 7, INT, (4,), 0)), 7, (4,))
+        handle = step("handle", 9, INT, (), (0,), blocks=(block((pair(3, 0),), 3), reads, block((), 6, (6,))))
+        placed = place.find(main_of((pair(1, 0), handle), 9))
+        self.assertIsNone(regions.check(placed))
+        self.assertEqual(self.words(placed[2][0][5]), [
+            "new0", "tuple", "new1", "handle", ["tuple"], ["get", "end0", "get", "end1"], ["end0", "end1"]])
+        self.assertEqual(placed[2][0][5][1][3][6], (0, 1))
+        # What the body gives and nothing reads still has to be in scope behind it.
+        handle = step("handle", 9, INT, (), (), blocks=(block((pair(3, 0),), 3), block((), 0, (4,))))
+        placed = place.find(main_of((handle,), 9))
+        self.assertIsNone(regions.check(placed))
+        self.assertEqual(self.words(placed[2][0][5]), ["new0", "handle", ["tuple", "end0"], []])
+
     def test_closures(self):
         body = "(let f (fn (x int) (get 0 (tuple x n))) (add (apply f 1) n))"
         self.assertEqual(self.main_steps(body), [
@@ -269,6 +301,20 @@ class FineTest(unittest.TestCase):
         placed = self.check_apart(text, 0, 3)
         self.assertEqual(len(cells(placed, 0)), 4)
 
+    def test_closures_in_closures_one_after_another(self):
+        """What the inner closure reads lies in one region, and thereby the outer one makes cells in its own."""
+        self.check_apart("(fun main ((n int)) int (let t (tuple n n) (let f (fn (x int) (let s (tuple x x) "
+                         "(let g (fn (y int) (add (get 0 s) (get 0 t))) x))) n)))", 0, 1)
+
+    def test_own_calls_in_closures(self):
+        placed = self.check_apart(TEXTS[-1], 0, 1)
+        self.assertEqual((placed[2][0][1:3], cells(placed, 0)), ((1, (0,)), {9: 0}))
+
+    def test_formals_that_are_not_touched(self):
+        """They stay apart, so that the callers' regions do."""
+        self.check_apart("(fun idle ((t (tuple int int)) (u (tuple int int))) int 4) "
+                         "(fun main ((n int)) int (idle (tuple 1 2) (tuple 3 4)))", 1, 2)
+
     def test_calls(self):
         """Each call has regions of its own, also that of the function itself."""
         text = "(fun use ((t (tuple int int)) (u (tuple int int))) int (add (get 0 t) (get 0 u))) "
@@ -296,6 +342,16 @@ class FineTest(unittest.TestCase):
         placed = found("(fun swap ((a (ref int)) (b (ref int)) (n int)) int (if (less n 1) (deref a) (swap b a (sub n 1)))) "
                        "(fun main ((n int)) int (swap (ref 1) (ref 2) n))")
         self.assertEqual(placed[2][0][1:3], (2, (0, 1)))
+
+    def test_own_calls_join_formals_step_by_step(self):
+        """Two formals are equal at once, and with them, call by call, all four."""
+        parameters = " ".join(f"({name} (ref int))" for name in "abcd")
+        for before in ("", "(fun first ((n int)) int n) "):
+            for order in ("d a b c", "b c d a"):
+                placed = found(f"{before}(fun f ({parameters} (n int)) int (if (less n 1) (deref (if (less n 0) c d)) "
+                               f"(f {order} (sub n 1)))) (fun main ((n int)) int (f (ref 1) (ref 2) (ref 3) (ref 4) n))")
+                self.assertIsNone(regions.check(placed))
+                self.assertEqual(placed[2][-2][1:3], (1, (0,)))
 
     def test_other_choices(self):
         """Programs with other regions that the check accepts never separate what is found together."""
@@ -398,6 +454,15 @@ class LimitTest(unittest.TestCase):
         placed = self.accept(main_of(steps, 0))
         self.assertEqual(placed[2][0][5][1][:2], (new(0), end(0)))
         self.assertEqual(len(placed[2][0][5][1]), 302)
+
+    def test_unused_regions_in_several_blocks(self):
+        raised = "(if (less n 0) (get 0 (tuple (raise Div int 1) 2)) (seq (raise Div (tuple int int) n) 1))"
+        self.accept(flattened(f"(fun main ((n int)) int (add {raised} (add {raised} {raised})))"))
+        flag = step("bool", 1, ("bool", (), 0), (), True)
+        branches = [step("if", 10 + at, INT, (1,), blocks=(block((step("raise", 20 + at, in_pair(0), (0,), 0),), 0),
+                                                          block((), 0))) for at in range(3)]
+        placed = self.accept(main_of((flag, *branches), 0))
+        self.assertEqual([one[0] for one in placed[2][0][5][1]], ["bool", "new", "end", "if", "if", "if"])
 
     def test_largest_program(self):
         kind = ("tuple", (("tuple", (INT,) * 6, 0),) * 4 + (("ref", (INT,), 0),), 0)

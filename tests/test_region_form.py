@@ -196,6 +196,11 @@ class FlatReasonTest(FormTest):
             (new(1), end(1), step("call", 1, INT, (0,), 0, use=((1, "none"), (1, "none")))), 1, name="main", kinds=(INT,)))
         self.accept(untouched)
         self.refuse(replace(untouched, (2, 1, 5, 1, 2, 6), ((1, "none"),)), "flat")
+        # In an inner block, behind a call that is right.
+        inner = block((step("call", 3, INT, (0,), 0, use=((1, "none"),)),), 3)
+        handle = step("handle", 5, INT, (), (), blocks=(inner, block((), 4, (4,))))
+        steps = untouched[2][1][5][1] + (handle,)
+        self.refuse(replace(untouched, (2, 1, 5, 1), steps), "flat")
 
     def test_number_of_steps(self):
         steps = tuple(number(at) for at in range(1, 1202))
