@@ -52,3 +52,22 @@ def _op_around(program, path):
     for at, index in enumerate(path[1:-2]):
         steps = steps[index][7 if at % 2 == 0 else 1]
     return steps[path[-2]][0]
+
+
+def final_places(path, body):
+    """Return two dicts: the paths of the final steps of a function, and those of the blocks that have its result."""
+    finals = {}
+    ends = {}
+    pending = [(path, body)]
+    while pending:
+        path, (_, steps, value) = pending.pop()
+        if not steps or steps[-1][0] not in ("if", "case", "handle") or steps[-1][1] != value:
+            ends[path] = True
+            continue
+        place = path + (len(steps) - 1,)
+        finals[place] = True
+        # Behind the body of a handle the normal arm is still to come.
+        first = 1 if steps[-1][0] == "handle" else 0
+        blocks = list(enumerate(steps[-1][7]))
+        pending.extend([(place + (index,), block) for index, block in blocks[first:]])
+    return finals, ends

@@ -11,7 +11,7 @@ class Outcome:
         self.ticks = 0
         self.outs = []
         self.fault = None
-        self.answer = 0
+        self.returned = 0
 
     def spend(self, ticks):
         """Spend ticks and return True, or end the run for lack of fuel and return False."""
@@ -23,9 +23,9 @@ class Outcome:
         return True
 
     def end_stuck(self):
-        """End the run because the number of the arguments is wrong."""
+        """End the run because what it is to do has no meaning."""
         self.fault = ("stuck",)
 
     def result(self):
         """Return the result of the run."""
-        return (self.fault, self.answer, tuple(self.outs), self.ticks)
+        return (self.fault, self.returned, tuple(self.outs), self.ticks)

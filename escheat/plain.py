@@ -44,7 +44,7 @@ class Evaluation:
         while self.tasks and self.outcome.fault is None:
             self.do_task()
         if self.outcome.fault is None:
-            self.outcome.answer = self.done[0]
+            self.outcome.returned = self.done[0]
 
     def do_task(self):
         """Do the next task."""

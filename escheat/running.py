@@ -91,7 +91,7 @@ class FlatRun:
         inner = self.blocks.pop()
         value = inner.frame.variables[inner.block[2]]
         if not self.blocks:
-            self.outcome.answer = value
+            self.outcome.returned = value
             return
         step = self.blocks[-1].next_step()
         if step[0] == "handle" and inner.number == 0:

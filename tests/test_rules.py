@@ -11,21 +11,23 @@ FILES = sorted(PACKAGE.rglob("*.py"))
 
 STATEMENTS = (
     ast.Assign, ast.AugAssign, ast.If, ast.While, ast.For, ast.Return, ast.Break, ast.Continue, ast.Pass, ast.Raise,
-    ast.Assert, ast.Delete, ast.Expr, ast.FunctionDef, ast.ClassDef, ast.ImportFrom, ast.Try,
+    ast.Assert, ast.Delete, ast.Expr, ast.FunctionDef, ast.ClassDef, ast.ImportFrom, ast.Try, ast.With,
 )
 # A try has one handler, without a name for the error, for one of these.
-CAUGHT = ("FlatError", "RegionError")
+CAUGHT = ("FlatError", "RegionError", "StoreError", "CertificateError")
 BUILTINS = (
     "len range enumerate zip min max sum abs sorted reversed int str bool list tuple dict set isinstance ord repr "
-    "any all divmod super ValueError"
+    "any all divmod super property ValueError"
 )
+# The methods that yield, each in a statement of its own.
+YIELDING = ("current", "__iter__")
 BARRED = (
     "type typing enum Enum Generic Protocol ABC namedtuple eval exec globals locals vars dir id open input register "
     "law elements mro compile getattr setattr hasattr"
 )
 
 # The methods of builtin values that are needed.
-METHODS = "append count extend get index items join pop removeprefix setdefault values"
+METHODS = "append count extend get index items join pop removeprefix setdefault split values"
 BARRED_ATTRIBUTES = (
     "items keys values pop update append clear extend insert remove reverse setdefault sort args encode decode hex "
     "fromhex format"
@@ -73,13 +75,21 @@ class RulesTest(unittest.TestCase):
             for node in ast.walk(tree):
                 if isinstance(node, ast.stmt):
                     self.assertIsInstance(node, STATEMENTS)
-                if isinstance(node, (ast.FunctionDef, ast.ClassDef)):
+                if isinstance(node, ast.ClassDef):
                     self.assertEqual(node.decorator_list, [])
+                if isinstance(node, ast.FunctionDef):
+                    self.assertIn([ast.unparse(one) for one in node.decorator_list], ([], ["property"]))
+                    yields = [one for one in ast.walk(node) if isinstance(one, (ast.Yield, ast.YieldFrom))]
+                    self.assertEqual(bool(yields), node.name in YIELDING)
                 if isinstance(node, ast.Try):
                     (handler,) = node.handlers
                     self.assertIn(handler.type.id, CAUGHT)
                     self.assertEqual((handler.name, node.orelse, node.finalbody), (None, [], []))
-                self.assertNotIsInstance(node, (ast.Div, ast.GeneratorExp, ast.Yield, ast.Await))
+                self.assertNotIsInstance(node, (ast.Div, ast.GeneratorExp, ast.Await))
+                if isinstance(node, ast.Call):
+                    # What a star stands before in a call is a plain name.
+                    stars = [one for one in node.args if isinstance(one, ast.Starred)]
+                    self.assertEqual([type(one.value) for one in stars], [ast.Name] * len(stars))
                 if isinstance(node, ast.Constant):
                     self.assertNotIsInstance(node.value, (float, complex, bytes))
                     self.assertNotIn("%", str(node.value))
@@ -162,7 +172,7 @@ class RulesTest(unittest.TestCase):
                         or isinstance(around, ast.Call) and getattr(around.func, "id", "") in takers
                         and around.args[0] is node, ast.unparse(around))
                 if name == "range" and not isinstance(around, (ast.For, ast.comprehension, ast.Assign)):
-                    self.assertIn(around.func.id, ("list", "reversed"))
+                    self.assertIn(around.func.id, ("list", "reversed", "tuple"))
                 if name == "set":
                     sorts = isinstance(around, ast.BinOp) and parents[around].func.id == "sorted"
                     self.assertTrue(sorts or around.func.id in ("len", "sorted"))
