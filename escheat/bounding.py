@@ -7,10 +7,8 @@ takes its index, and the others come behind all that there are.
 from escheat.bound_rules import NESTED, UNSIZED, learn_value, words_of_cell
 from escheat.errors import CertificateError
 from escheat.following import final_places
+from escheat.steps import JOINING_OPS
 from escheat.walking import Walk
-
-# The steps behind whose blocks the function goes on.
-JOINING = ("if", "case", "handle")
 
 
 class Place:
@@ -152,7 +150,7 @@ class Bounding(Walk):
             self.place.owned[region] = self.place.zero
         elif op == "end":
             self.place.owned.pop(region, None)
-        elif op in JOINING:
+        elif op in JOINING_OPS:
             self.before[path] = self.place
         elif op == "call":
             self.at_call(step)
@@ -228,7 +226,7 @@ class Bounding(Walk):
     def behind_blocks(self, path, step):
         """Join what is known at the ends of the blocks behind which the function goes on."""
         op, out, _, _, _, _, _, blocks = step
-        if op not in JOINING or path in self.finals:
+        if op not in JOINING_OPS or path in self.finals:
             return
         first = 1 if op == "handle" else 0
         ends = self.behind[path][first:]

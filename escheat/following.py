@@ -1,10 +1,11 @@
-"""Places of a program, and the steps that can follow them.
+"""Places of a program: the steps that can follow them, and those that give the result of a function.
 
 A path leads from a function's number to the index of a step, of one of its blocks, of a step in it, and so on. So
 the path of a step has an even length, and that of a block an odd one.
 """
 
 from escheat.names import is_natural
+from escheat.steps import JOINING_OPS
 
 
 def is_place(program, path):
@@ -61,7 +62,7 @@ def final_places(path, body):
     pending = [(path, body)]
     while pending:
         path, (_, steps, value) = pending.pop()
-        if not steps or steps[-1][0] not in ("if", "case", "handle") or steps[-1][1] != value:
+        if not steps or steps[-1][0] not in JOINING_OPS or steps[-1][1] != value:
             ends[path] = True
             continue
         place = path + (len(steps) - 1,)

@@ -5,6 +5,7 @@ from escheat.flat_check import check_flat
 from escheat.kind_regions import regions_of
 from escheat.region_form import erase_regions, has_region_shape
 from escheat.step_rules import step_holds
+from escheat.steps import JOINING_OPS
 from escheat.touching import consumed_regions, kept_regions, named_regions, touched_regions
 from escheat.walking import Walk
 
@@ -185,7 +186,7 @@ class SafetyCheck(ScopeCheck):
 
     def behind_blocks(self, path, step):
         """Check that the same regions are live at the end of each block behind which the function goes on."""
-        if step[0] in ("if", "case", "handle"):
+        if step[0] in JOINING_OPS:
             ends = self.ends[path][1:] if step[0] == "handle" else self.ends[path]
             expect(all([live == ends[0] for live in ends]), path, "join")
             self.holding.live = ends[0]

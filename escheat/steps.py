@@ -17,6 +17,9 @@ SEVERAL_INS = ("make", "tuple", "call")
 # The ops that make a cell, whatever their ins are; make does so if it has some.
 CELL_OPS = ("tuple", "fn", "ref", "array")
 
+# The ops behind whose blocks the function goes on; the block of an fn is done by itself.
+JOINING_OPS = ("if", "case", "handle")
+
 # The ops that read or write the cell of their first in, whatever its kind is; case does so if it has fields.
 READING_OPS = ("get", "deref", "set", "at", "put", "len", "apply")
 

@@ -222,7 +222,40 @@ class InterfaceTest(unittest.TestCase):
             "find": ["program"], "coarse": ["program"], "build": ["program"],
             "keeper": ["program", "place", "region"],
         },
+        "memory": {"replay": ["deeds"]},
+        "machine": {
+            "translate": ["program"], "check_code": ["code"], "run": ["code", "arguments", "*fuel"],
+        },
+        "bounds": {
+            "accept": ["program", "certificates"], "bound": ["program", "certificates", "arguments"], "find": ["program"],
+        },
+        "system": {
+            "build": ["text"], "run_text": ["text", "arguments", "*fuel"],
+            "report": ["text", "certificates", "arguments", "*fuel"],
+        },
     }
+    # The methods and properties that are listed for a class stand in the class itself.
+    METHODS = {
+        "memory": {
+            "Store": {
+                "__init__": [], "begin": [], "cell": ["region", "words"], "end": ["region"], "read": ["address"],
+                "write": ["address", "word"], "owner": ["address"], "current": [], "held": [], "pages": [], "waiting": [],
+                "__len__": [], "__contains__": ["address"], "__iter__": [],
+            },
+            "Watch": {"__init__": ["store"], "__enter__": [], "__exit__": ["kind", "value", "trace"]},
+        },
+        "bounds": {
+            "Linear": {
+                "__init__": ["constant", "coefficients"], "__add__": ["other"], "at_most": ["other"], "value": ["sizes"],
+            },
+        },
+        "system": {
+            "Session": {
+                "__init__": [], "load": ["text"], "answer": ["line"], "loaded": [], "__len__": [], "__iter__": [],
+            },
+        },
+    }
+    PROPERTIES = {"held", "pages", "waiting", "loaded"}
 
     def test_functions(self):
         for module, functions in self.PARAMETERS.items():
@@ -234,6 +267,22 @@ class InterfaceTest(unittest.TestCase):
             }
             for name, parameters in functions.items():
                 self.assertEqual(found.get(name), parameters)
+
+    def test_methods(self):
+        for module, classes in self.METHODS.items():
+            tree = ast.parse((PACKAGE / f"{module}.py").read_text())
+            defined = {node.name: node for node in tree.body if isinstance(node, ast.ClassDef)}
+            for name, methods in classes.items():
+                inside = {node.name: node for node in defined[name].body if isinstance(node, ast.FunctionDef)}
+                for method, parameters in methods.items():
+                    self.assertEqual([arg.arg for arg in inside[method].args.args], ["self", *parameters])
+                    self.assertEqual(bool(inside[method].decorator_list), method in self.PROPERTIES)
+
+    def test_greatest_fuel_by_default(self):
+        for module, functions in self.PARAMETERS.items():
+            for node in ast.parse((PACKAGE / f"{module}.py").read_text()).body:
+                if isinstance(node, ast.FunctionDef) and "*fuel" in functions.get(node.name, ()):
+                    self.assertEqual([ast.unparse(value) for value in node.args.kw_defaults], ["MAX_FUEL"])
 
 
 if __name__ == "__main__":
