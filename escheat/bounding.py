@@ -83,6 +83,15 @@ class Place:
             expression = expression.put_back(index, least, many)
         return expression
 
+    def words_from(self, before, words):
+        """Return expressions of this place, by regions, with the path variables of an earlier place."""
+        return {region: self.seen_from(before, expression) for region, expression in words.items()}
+
+    def bound_from(self, before, variable):
+        """Return the bound of a variable of this place with the path variables of an earlier place, or None."""
+        bound = self.bounds[variable]
+        return None if bound is None else self.seen_from(before, bound)
+
 
 class Bounding(Walk):
     """The check of what is claimed of one goal: a function, and those regions of its touch that the call owns.
@@ -229,22 +238,17 @@ class Bounding(Walk):
         if op not in JOINING_OPS or path in self.finals:
             return
         first = 1 if op == "handle" else 0
+        before = self.before[path]
         ends = self.behind[path][first:]
-        place = self.before[path].branch()
-        place.owned = {region: place.owned[region] for region in ends[0].owned}
-        bounds = []
-        least = []
-        for end, (_, _, value) in zip(ends, blocks[first:]):
-            for mine, others in ((place.owned, end.owned), (place.grown, end.grown)):
-                for region, words in list(mine.items()):
-                    mine[region] = words.joined(end.seen_from(place, others[region]))
-            bound = end.bounds[value]
-            bounds.append(None if bound is None else end.seen_from(place, bound))
-            least.append(end.least.get(value))
-        self.place = place
-        place.bounds[out] = _joined_bounds(bounds)
+        values = [value for _, _, value in blocks[first:]]
+        owned = {region: before.owned[region] for region in ends[0].owned}
+        self.place = before.branch()
+        self.place.owned = _joined_words([owned, *[end.words_from(before, end.owned) for end in ends]])
+        self.place.grown = _joined_words([before.grown, *[end.words_from(before, end.grown) for end in ends]])
+        self.place.bounds[out] = _joined_bounds([end.bound_from(before, value) for end, value in zip(ends, values)])
+        least = [end.least.get(value) for end, value in zip(ends, values)]
         if None not in least:
-            place.least[out] = min(least)
+            self.place.least[out] = min(least)
         self.expect_small()
 
     def substitute(self, index, least, many):
@@ -269,6 +273,14 @@ class Bounding(Walk):
 def _is_known(claim, values):
     """Tell whether an expression has a value if its variables have these, of which some are unknown."""
     return not any([number > 0 and value is None for number, value in zip(claim.coefficients, values)])
+
+
+def _joined_words(several):
+    """Return the least expressions, by regions, that those of several dicts are at most."""
+    joined, *others = several
+    for words in others:
+        joined = {region: expression.joined(words[region]) for region, expression in joined.items()}
+    return joined
 
 
 def _joined_bounds(bounds):
