@@ -6,14 +6,6 @@ from escheat.names import DIGITS
 NUMBER_DIGITS = 12
 
 
-def words_of_line(line):
-    """Return the list of the words of a line, which one space each separates, or raise CommandError."""
-    words = line.split(" ")
-    if "" in words:
-        raise CommandError(line)
-    return words
-
-
 def read_numbers(line, words):
     """Return the list of the numbers that these words of a line are, or raise CommandError."""
     if not all([_is_number(word) for word in words]):

@@ -2,7 +2,7 @@
 
 from escheat.bounds import bound, find
 from escheat.building import built_parts
-from escheat.commands import event_line, function_line, read_numbers, result_lines, words_of_line
+from escheat.commands import event_line, function_line, read_numbers, result_lines
 from escheat.errors import CertificateError, CommandError
 from escheat.limits import MAX_FUEL
 from escheat.machine import run
@@ -41,7 +41,8 @@ class Session:
 
     def answer(self, line):
         """Return the list of the answers to a line, or raise CommandError."""
-        word, *others = words_of_line(line)
+        # Where spaces stand together or at an end, there is an empty word, which is neither a command nor a number.
+        word, *others = line.split(" ")
         action = COMMANDS.get(word)
         if action is None:
             raise CommandError(line)

@@ -9,13 +9,14 @@ from tests.helpers import INT
 from tests.programs import block, function, program, step
 
 LIST = ("data", 0, 0)
-PAIR_IN_0 = ("tuple", (INT, INT), 0)
+LIMIT = 10 ** 12
 # list: a number and a list; mix: a constructor of each sort of fields.
 DATAS = (
     ("list", (("Nil", ()), ("Cons", (INT, LIST)))),
     ("tree", (("Leaf", ()), ("Node", (("data", 1, 0), INT, ("data", 1, 0))))),
     ("mix", (("Numbers", (INT, ("bool", (), 0))), ("Array", (("array", (INT,), 0), LIST)),
              ("Pair", (("tuple", (INT, INT), 0), ("ref", (INT,), 0))), ("Flag", (("unit", (), 0),)))),
+    ("many", (("Many", (LIST, LIST, INT, LIST)),)),
 )
 
 
@@ -100,17 +101,25 @@ class CertificateTest(unittest.TestCase):
         value = with_main(one, datas=datas)
         self.least(value, certificate(0, peak, growth, size, mine), certificate(1, (0, 0)))
 
+    def unknown(self, value, peak=(0, 0), growth=()):
+        """Check that the function 0 has a certificate without a size, and none with any size.
+
+        The greatest sizes alone would not tell: they may be too great where a path variable is replaced.
+        """
+        main_certificate = certificate(1, (0, 0))
+        self.accepts(value, (certificate(0, peak, growth), main_certificate))
+        for size in ((10 ** 9,) * len(peak), (0,) + (LIMIT,) * (len(peak) - 1), (LIMIT,) * len(peak)):
+            self.refuses(value, (certificate(0, peak, growth, size), main_certificate))
+
     def size_of(self, steps, value, size, *, kinds=(INT,), **more):
         """Check the least size of the result of a function without cells; None if it is unknown."""
         one = function(steps, value, kinds=kinds, **more)
         zero = (0,) * (1 + len(kinds))
         if size is not None:
             self.function_least(one, zero, (), size)
-            return
-        program_ = with_main(one)
-        self.accepts(program_, (certificate(0, zero), certificate(1, (0, 0))))
-        self.refuses(program_, (certificate(0, zero, (), (10 ** 12,) * len(zero)), certificate(1, (0, 0))))
+        else:
+            self.unknown(with_main(one), zero)
 
 
-__all__ = ["CertificateTest", "DATAS", "LIST", "PAIR_IN_0", "block", "certificate", "fault", "function", "lowered",
+__all__ = ["CertificateTest", "DATAS", "LIMIT", "LIST", "block", "certificate", "fault", "function", "lowered",
            "program", "step", "wanted_fault", "with_main", "with_number"]

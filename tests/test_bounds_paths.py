@@ -221,7 +221,7 @@ class IfTest(CertificateTest):
             if size is not None or constant == -1:
                 self.function_least(one, (0, 0), (), (1, 1))
             else:
-                self.refuses(with_main(one), (certificate(0, (0, 0), (), (LIMIT, LIMIT)), certificate(1, (0, 0))))
+                self.unknown(with_main(one))
 
     def test_in_the_second_block(self):
         # n < c is false: n is at least c.
@@ -231,13 +231,13 @@ class IfTest(CertificateTest):
             if known:
                 self.function_least(one, (0, 0), (), (1, 1))
             else:
-                self.refuses(with_main(one), (certificate(0, (0, 0), (), (LIMIT, LIMIT)), certificate(1, (0, 0))))
+                self.unknown(with_main(one))
 
     def test_not_in_the_other_blocks(self):
         add = ((step("add", 4, INT, (0, 3)),), 4)
         for rows, first, second in (((number(1, 4), less(2, 1, 0)), ((), 3), add), ((number(1, 4), less(2, 0, 1)), add, ((), 3))):
             one = self.body(*rows, number(3, 1), condition=2, first=first, second=second)
-            self.refuses(with_main(one), (certificate(0, (0, 0), (), (LIMIT, LIMIT)), certificate(1, (0, 0))))
+            self.unknown(with_main(one))
 
     def test_what_is_replaced(self):
         """The constant may be used where the variable is at least so much: n pays for m words by one coefficient."""
@@ -257,7 +257,7 @@ class IfTest(CertificateTest):
             ((number(5, 0), number(6, 0), step("sub", 1, INT, (5, 6)), less(2, 1, 0)), 2), ((less(2, 0, 0),), 2),
         ):
             one = self.body(number(3, 1), *rows, condition=condition, first=add, second=((), 3))
-            self.refuses(with_main(one), (certificate(0, (0, 0), (), (LIMIT, LIMIT)), certificate(1, (0, 0))))
+            self.unknown(with_main(one))
 
     def test_a_condition_from_further_out(self):
         inner = branch(9, 8, ((branch(10, 2, ((step("add", 4, INT, (0, 3)),), 4), ((), 3)),), 10), ((), 3))
@@ -283,7 +283,7 @@ class IfTest(CertificateTest):
             if known:
                 self.function_least(one, (0, 0), (), (0, 1))
             else:
-                self.refuses(with_main(one), (certificate(0, (0, 0), (), (LIMIT, LIMIT)), certificate(1, (0, 0))))
+                self.unknown(with_main(one))
 
     def test_in_all_expressions(self):
         """What is held, other bounds and the expressions of the certificate see the new variable, too."""
@@ -295,6 +295,41 @@ class IfTest(CertificateTest):
         # With 2n it need not be 2: where n is 3 + u there are 6 + 2u words.
         self.accepts(with_main(one), (certificate(0, (1, 2)), certificate(1, (0, 0))))
         self.refuses(with_main(one), (certificate(0, (0, 2)), certificate(1, (0, 0))))
+
+    def test_a_smaller_least_value_has_no_effect(self):
+        """Where n is at least 5, it stays so if it is at least 3, too."""
+        rows = (number(1, 5), less(2, 0, 1), number(3, 3), less(4, 0, 3), number(5, 4), number(6, 1))
+        rest = ((step("sub", 7, INT, (0, 5)), step("add", 8, INT, (7, 6))), 8)
+        inner = branch(9, 4, ((number(11, 0),), 11), rest)
+        one = function((*rows, branch(10, 2, ((number(12, 0),), 12), ((inner,), 9))), 10, kinds=(INT,))
+        self.function_least(one, (0, 0), (), (0, 1))
+
+    def test_bounds_that_get_too_great(self):
+        """They are unknown from then on: an array has at most 12 elements."""
+        same = function((), 0, name="g", kinds=(INT,))
+        for constant, words in ((1, None), (2, 13)):
+            rows = (number(1, constant), less(2, 0, 1), call(7, (0,), 0))
+            value = program(same, main(*rows, branch(11, 2, ((), 0), ((new(8), array(10, 7, 8), end(8)), 0)), value=11))
+            # The result is at most 10 ** 12 times n; where n is 2 and more, that is twice 10 ** 12 and more.
+            result = certificate(0, (0, 0), (), (0, LIMIT))
+            if words is None:
+                self.refuses(value, (result, certificate(1, (0, LIMIT))), 1)
+            else:
+                self.least(value, certificate(0, (0, 0), (), (0, LIMIT))[:4] + (None,), certificate(1, (1, 6)))
+                self.accepts(value, (result, certificate(1, (1, 6))))
+                self.refuses(value, (result, certificate(1, (0, 6))), 1)
+
+    def test_what_is_held_gets_too_great(self):
+        """What a call has added is not compared, but where n is 2 and more it must not be too great."""
+        callee = function((end(0),), 0, name="g", kinds=(INT,), formals=1, touch=(0,))
+        for constant in (1, 2):
+            rows = (number(1, constant), less(2, 0, 1), new(5), call(3, (0,), 0, (5, "keep")))
+            value = program(callee, main(*rows, branch(9, 2, ((end(5),), 0), ((end(5),), 0)), value=9))
+            given = (certificate(0, (0, 0), ((0, LIMIT),)), certificate(1, (0, 0)))
+            if constant == 1:
+                self.accepts(value, given)
+            else:
+                self.refuses(value, given, 1)
 
     def test_only_a_path_variable_is_replaced(self):
         """Twice n, or n and something, is known to be so much, but nothing is replaced."""
@@ -341,6 +376,27 @@ class CaseTest(CertificateTest):
         one = self.over(0, LIST, ((), 90, ()), (self.words(4), 90, (1, 2)), kinds=(LIST,))
         self.function_least(one, (1, 1), ((0, 0),), (0, 0))
 
+    def test_an_empty_list(self):
+        """A constructor without fields tells nothing of the size."""
+        one = self.over(0, LIST, (self.words(1), 90, ()), ((), 90, (1, 2)), kinds=(LIST,))
+        self.function_least(one, (1, 0), ((0, 0),), (0, 0))
+        self.refuses(with_main(one), (certificate(0, (0, 5), ((0, 0),)), certificate(1, (0, 0))))
+
+    def test_fields_have_variables_of_their_own(self):
+        """All parts together are not larger than the whole, less the cell; no part is more than that."""
+        measure = function((number(90, 0), end(0)), 90, name="g", kinds=(LIST,), formals=1, touch=(0,))
+        for used in ((11, 12, 14), (11, 11, 14), (14, 14, 14), (12, 12, 11)):
+            calls = [call(5 + at, (variable,), 0, (0, "keep")) for at, variable in enumerate(used)]
+            rows = (number(90, 0), case(99, 0, block((*calls, end(0)), 90, (11, 12, 13, 14))))
+            one = function(rows, 99, kinds=(("data", 3, 0), INT), formals=1, touch=(0,))
+            value = program(measure, one, main(), datas=with_main()[0])
+            most = max(used.count(variable) for variable in used)
+            # g adds as many words as its list is large.
+            full = (0, most, 0)
+            self.accepts(value, (certificate(0, (0, 1), ((0, 1),)), certificate(1, full, (full,)), certificate(2, (0, 0))))
+            for peak, growth in (((0, most - 1, 5), full), (full, (0, most - 1, 5))):
+                self.refuses(value, (certificate(0, (0, 1), ((0, 1),)), certificate(1, peak, (growth,)), certificate(2, (0, 0))), 1)
+
     def test_a_tree(self):
         """A node is 4 and its two parts and more."""
         measure = function((number(90, 0), end(0)), 90, name="g", kinds=(TREE,), formals=1, touch=(0,))
@@ -360,7 +416,7 @@ class CaseTest(CertificateTest):
             blocks[number_] = block((end(0),), value, arms[number_][2])
             one = function((number(90, 0), case(99, 0, *blocks, kind=kind)), 99, kinds=(MIX,), result=kind, formals=1, touch=(0,))
             if size is None:
-                self.refuses(with_main(one), (certificate(0, (0, 0), ((0, 0),), (LIMIT, LIMIT)), certificate(1, (0, 0))))
+                self.unknown(with_main(one), (0, 0), ((0, 0),))
                 self.accepts(with_main(one), (certificate(0, (0, 0), ((0, 0),)), certificate(1, (0, 0))))
             else:
                 self.function_least(one, (0, 0), ((0, 0),), size)
@@ -397,7 +453,7 @@ class CaseTest(CertificateTest):
                 case(99, 7, block((step("make", 8, LIST, (), 0), end(0)), 8), block((end(0),), 2, (1, 2)), kind=LIST))
         one = function(rows, 99, kinds=(("ref", (LIST,), 0),), result=LIST, formals=1, touch=(0,))
         self.accepts(with_main(one), (certificate(0, (0, 0), ((0, 0),)), certificate(1, (0, 0))))
-        self.refuses(with_main(one), (certificate(0, (0, 0), ((0, 0),), (LIMIT, LIMIT)), certificate(1, (0, 0))))
+        self.unknown(with_main(one), (0, 0), ((0, 0),))
 
     def test_a_path_variable_of_a_path_variable(self):
         """A list of two cells: the rest of the rest pays for three words again."""
@@ -452,7 +508,7 @@ class JoinTest(CertificateTest):
         self.function_least(one, (0, 0), (), (5, 1))
         one = function((yes, branch(91, 90, ((step("div", 1, INT, (0, 0)),), 1), ((number(2, 5),), 2)), step("print", 3, UNIT, (0,))),
                        91, kinds=(INT,))
-        self.refuses(with_main(one), (certificate(0, (0, 0), (), (LIMIT, LIMIT)), certificate(1, (0, 0))))
+        self.unknown(with_main(one))
 
     def test_the_least_value_of_the_result(self):
         yes = step("bool", 90, BOOL, (), True)
@@ -462,12 +518,12 @@ class JoinTest(CertificateTest):
             if known:
                 self.function_least(one, (0, 0), (), (1 + max(first, second), 0))
             else:
-                self.refuses(with_main(one), (certificate(0, (0, 0), (), (LIMIT, LIMIT)), certificate(1, (0, 0))))
+                self.unknown(with_main(one))
         # Unknown in one block, and no constant behind it even if both are the same.
         rows = (yes, branch(91, 90, ((number(1, 4),), 1), ((), 0)), number(3, 1), step("add", 4, INT, (91, 3)))
-        self.refuses(with_main(function(rows, 4, kinds=(INT,))), (certificate(0, (0, 0), (), (LIMIT, LIMIT)), certificate(1, (0, 0))))
+        self.unknown(with_main(function(rows, 4, kinds=(INT,))))
         rows = (yes, branch(91, 90, ((number(1, 4),), 1), ((number(2, 4),), 2)), step("mul", 4, INT, (91, 91)))
-        self.refuses(with_main(function(rows, 4, kinds=(INT,))), (certificate(0, (0, 0), (), (LIMIT, LIMIT)), certificate(1, (0, 0))))
+        self.unknown(with_main(function(rows, 4, kinds=(INT,))))
 
     def test_a_raise_joins_with_anything(self):
         yes = step("bool", 90, BOOL, (), True)
@@ -508,10 +564,41 @@ class JoinTest(CertificateTest):
             self.accepts(value, given)
             self.refuses(value, (given[0], certificate(1, (1 + constant, 2), ((0, 0), (2 + constant, 2))), given[2]), 1)
 
+    def test_an_unknown_value_of_a_block(self):
+        """Also where a path variable was replaced in the block."""
+        rows = (number(1, 0), less(2, 1, 0), branch(9, 2, ((step("div", 3, INT, (0, 0)),), 3), ((), 1)), step("print", 8, UNIT, (0,)))
+        self.unknown(with_main(function(rows, 9, kinds=(INT,))))
+
+    def test_the_sum_of_what_is_joined(self):
+        """It must not be too great even if in each block it is not."""
+        yes = step("bool", 90, BOOL, (), True)
+        callee = function((end(0),), 0, name="g", kinds=(INT,), formals=1, touch=(0,))
+        for words, refused in ((LIMIT // 2, False), (LIMIT // 2 + 1, True)):
+            rows = (yes, new(5), new(6), branch(91, 90, ((call(1, (0,), 0, (5, "keep")),), 1), ((call(2, (0,), 0, (6, "keep")),), 2)),
+                    end(5), end(6))
+            value = program(callee, main(*rows))
+            given = (certificate(0, (0, 0), ((words, 0),)), certificate(1, (0, 0)))
+            if refused:
+                self.refuses(value, given, 1)
+            else:
+                self.accepts(value, given)
+
+    def test_a_final_step_is_not_joined(self):
+        yes = step("bool", 90, BOOL, (), True)
+        callee = function((end(0),), 0, name="g", kinds=(INT,), formals=1, touch=(0,))
+        first = ((call(1, (0,), 0, (0, "keep")), end(0), end(1)), 1)
+        second = ((call(2, (0,), 0, (1, "keep")), end(0), end(1)), 2)
+        given = (certificate(0, (0, 0), ((LIMIT, 0),)), certificate(1, (0, 0), ((LIMIT, 0), (LIMIT, 0))), certificate(2, (0, 0)))
+        one = function((yes, branch(91, 90, first, second)), 91, name="f", kinds=(INT,), formals=2, touch=(0, 1))
+        self.accepts(program(callee, one, main()), given)
+        # It does not define the value, so it is not final.
+        one = function((yes, branch(91, 90, first, second)), 0, name="f", kinds=(INT,), formals=2, touch=(0, 1))
+        self.refuses(program(callee, one, main()), given, 1)
+
     def test_what_is_known_is_as_before(self):
         """Behind the blocks nothing is known of n again."""
         rows = (number(1, 0), less(2, 1, 0), branch(9, 2, ((), 0), ((), 0)), number(3, 1), step("add", 4, INT, (0, 3)))
-        self.refuses(with_main(function(rows, 4, kinds=(INT,))), (certificate(0, (0, 0), (), (LIMIT, LIMIT)), certificate(1, (0, 0))))
+        self.unknown(with_main(function(rows, 4, kinds=(INT,))))
 
     def test_a_last_step_that_does_not_define_the_value(self):
         """It is not final: the blocks are joined, and the value is compared behind it."""
@@ -572,16 +659,16 @@ class HandleTest(CertificateTest):
         times = block((step("mul", 4, INT, (2, 2)),), 4, (2,))
         self.function_least(function((self.handle(((number(1, 4),), 1), times, numbers=()),), 9, kinds=(INT,)), (0, 0), (), (16, 0))
         one = function((self.handle(((), 0), add, numbers=()),), 9, kinds=(INT,))
-        self.refuses(with_main(one), (certificate(0, (0, 0), (), (LIMIT, LIMIT)), certificate(1, (0, 0))))
+        self.unknown(with_main(one))
         one = function((self.handle(((), 0), block((), 2, (2,)), numbers=()),), 9, kinds=(INT,))
         self.function_least(one, (0, 0), (), (0, 1))
         one = function((self.handle(((step("div", 1, INT, (0, 0)),), 1), block((), 2, (2,)), numbers=()),), 9, kinds=(INT,))
-        self.refuses(with_main(one), (certificate(0, (0, 0), (), (LIMIT, LIMIT)), certificate(1, (0, 0))))
+        self.unknown(with_main(one))
 
     def test_the_other_arms(self):
         """Nothing is known of their variable."""
         one = function((self.handle(((), 0), block((), 2, (2,)), block((), 3, (3,))),), 9, kinds=(INT,))
-        self.refuses(with_main(one), (certificate(0, (0, 0), (), (LIMIT, LIMIT)), certificate(1, (0, 0))))
+        self.unknown(with_main(one))
         self.accepts(with_main(one), (certificate(0, (0, 0)), certificate(1, (0, 0))))
         arm = block((new(8), array(4, 3, 8), end(8)), 0, (3,))
         self.function_least(function((self.handle(((), 0), block((), 2, (2,)), arm),), 9, kinds=(INT,)), (13, 0), (), (0, 1))
@@ -616,7 +703,7 @@ class HandleTest(CertificateTest):
         rows = (number(1, 0), less(2, 1, 0), self.handle(((branch(8, 2, ((), 0), ((), 0)),), 8), block((
             number(4, 1), step("add", 5, INT, (0, 4))), 5, (3,)), numbers=()))
         one = function(rows, 9, kinds=(INT,))
-        self.refuses(with_main(one), (certificate(0, (0, 0), (), (LIMIT, LIMIT)), certificate(1, (0, 0))))
+        self.unknown(with_main(one))
 
 
 if __name__ == "__main__":

@@ -52,6 +52,10 @@ FOUND = (
      "(fun main ((n int)) int (swap n (ref 1) (ref 2)))", (2, 2, 2, 2)),
     (LISTS + "(fun main ((n int)) int (case (Cons n (Cons 2 (Nil))) ((Nil) 0) ((Cons x xs) (case xs ((Nil) 1) ((Cons y ys) y)))))",
      (6, 6, 6, 6)),
+    (BUILD + SUM + MAP + "(fun rest ((xs list)) list (case xs ((Nil) (Nil)) ((Cons x r) (double r)))) "
+     "(fun main ((n int)) int (sum (rest (build n))))", (0, 3, 6, 15)),
+    (BUILD + "(fun f ((n int) (xs list)) int (if (less n 1) 0 (case xs ((Nil) n) ((Cons x r) (let t (tuple x n) (add (f n r) (get 0 t))))))) "
+     "(fun main ((n int)) int (f n (build n)))", (0, 5, 10, 25)),
     ("(fun g ((n int) (t (tuple int int))) int (add (get 0 t) n)) (fun main ((n int) (m int)) int (add (g n (tuple n m)) (g m (tuple m n))))",
      (2, 2, 2, 2)),
 )
@@ -170,6 +174,16 @@ class HandMadeTest(FoundTest):
             rows = (number(1, 10 ** 6), number(2, factor), step("mul", 3, INT, (1, 2)), new(0),
                     step("array", 4, ("array", (INT,), 0), (3, 0), region=0), end(0))
             self.assertEqual(failure(main_of(rows, 0)), wanted)
+
+    def test_great_coefficients(self):
+        """A claim that would have to be too great is not found either."""
+        text = "(fun f ((n int)) int (len (array n 0))) (fun g ((n int)) int (if (less 0 n) (f (mul 1000000 n)) 0)) "
+        text += "(fun h ((n int)) int (if (less 0 n) (g (mul 100000 n)) 0)) (fun main ((n int)) int (if (less 0 n) (h (mul {} n)) 0))"
+        for factor in (1, 4):
+            found = self.check(place.build(flattened(text.format(factor))))
+            self.assertGreaterEqual(found[-1][2][1], factor * 10 ** 11)
+        for factor in (10, 100, 2 ** 31 - 1):
+            self.assertEqual(failure(place.build(flattened(text.format(factor)))), (-1, "none"))
 
 
 class RandomTest(FoundTest):
