@@ -184,6 +184,9 @@ class HandMadeTest(FoundTest):
             self.assertGreaterEqual(found[-1][2][1], factor * 10 ** 11)
         for factor in (10, 100, 2 ** 31 - 1):
             self.assertEqual(failure(place.build(flattened(text.format(factor)))), (-1, "none"))
+        for argument, wanted in ((1, None), (9, None), (10, (-1, "none")), (100, (-1, "none"))):
+            only = text.replace("(if (less 0 n) (h (mul {} n)) 0)", f"(h {argument})")
+            self.assertEqual(failure(place.build(flattened(only))), wanted)
 
 
 class RandomTest(FoundTest):
