@@ -7,35 +7,47 @@ from escheat.limits import PAGE_WORDS
 NOBODY = -1
 
 
+class Region:
+    """A current region.
+
+    - words: the words of all its cells.
+    - pages_taken: its pages, in the order in which it took them.
+    - behind: the address behind the last cell that was placed behind others, or 0 before there is one.
+    """
+
+    def __init__(self):
+        self.words = 0
+        self.pages_taken = []
+        self.behind = 0
+
+
 class Store:
     """A memory of words.
 
     - words: the words of all pages, in the order of their addresses.
     - owners: the region of each page, or NOBODY. All words of a page that waits are 0.
-    - sizes: the words of all cells of each current region.
-    - ends: for each current region, the address behind the last cell that was placed behind others, or 0.
-    - begun: the number of the regions that have begun.
+    - regions: the current regions by their numbers; begun: the number of those that have begun.
     - total: the words of all cells in current regions.
+    - free: the number of the pages that wait.
     - watch: the watch that was started last, or None.
     """
 
     def __init__(self):
         self.words = []
         self.owners = []
-        self.sizes = {}
-        self.ends = {}
+        self.regions = {}
         self.begun = 0
         self.total = 0
+        self.free = 0
         self.watch = None
 
     def begin(self):
         """Begin a region and return its number."""
-        region = self.begun
+        number = self.begun
         self.begun += 1
-        self.sizes[region] = 0
-        self.ends[region] = 0
-        self.note("begin", region, 0)
-        return region
+        self.regions[number] = Region()
+        self.note("begin", number, 0)
+        return number
 
     def cell(self, region, words):
         """Make a cell in a current region and return the address of its first word, or raise StoreError."""
@@ -46,7 +58,7 @@ class Store:
             address = self.take_pages(region, (words + PAGE_WORDS - 1) // PAGE_WORDS)
         else:
             address = self.take_room(region, words)
-        self.sizes[region] += words
+        self.regions[region].words += words
         self.total += words
         self.note("cell", region, address)
         return address
@@ -54,13 +66,13 @@ class Store:
     def end(self, region):
         """End a current region, whose pages wait then, or raise StoreError."""
         self.expect_current(region)
-        for page, owner in enumerate(list(self.owners)):
-            if owner == region:
-                self.owners[page] = NOBODY
-                first = page * PAGE_WORDS
-                self.words[first:first + PAGE_WORDS] = [0] * PAGE_WORDS
-        self.total -= self.sizes[region]
-        del self.sizes[region], self.ends[region]
+        ended = self.regions.pop(region)
+        for page in ended.pages_taken:
+            self.owners[page] = NOBODY
+            first = page * PAGE_WORDS
+            self.words[first:first + PAGE_WORDS] = [0] * PAGE_WORDS
+        self.free += len(ended.pages_taken)
+        self.total -= ended.words
         self.note("end", region, 0)
 
     def read(self, address):
@@ -81,7 +93,7 @@ class Store:
 
     def current(self):
         """Yield the current regions in ascending order."""
-        for region in sorted(self.sizes):
+        for region in sorted(self.regions):
             yield region
 
     @property
@@ -92,12 +104,12 @@ class Store:
     @property
     def pages(self):
         """The number of the pages that belong to regions."""
-        return len(self.owners) - self.owners.count(NOBODY)
+        return len(self.owners) - self.free
 
     @property
     def waiting(self):
         """The number of the pages that wait."""
-        return self.owners.count(NOBODY)
+        return self.free
 
     def __len__(self):
         return len(self.words)
@@ -110,16 +122,16 @@ class Store:
 
     def expect_current(self, region):
         """Raise StoreError if a region is not current."""
-        if region not in self.sizes:
+        if region not in self.regions:
             raise StoreError("region")
 
     def take_room(self, region, words):
         """Return the address of a cell that shares its page: behind the last such cell, or on a new page."""
-        address = self.ends[region]
+        address = self.regions[region].behind
         # The rest of a full page is none, and so is it before there is a page.
         if -address % PAGE_WORDS < words:
             address = self.take_pages(region, 1)
-        self.ends[region] = address + words
+        self.regions[region].behind = address + words
         return address
 
     def take_pages(self, region, many):
@@ -128,12 +140,16 @@ class Store:
         if first == len(self.owners):
             self.owners.extend([NOBODY] * many)
             self.words.extend([0] * (many * PAGE_WORDS))
-        for page in range(first, first + many):
-            self.owners[page] = region
+            self.free += many
+        self.owners[first:first + many] = [region] * many
+        self.free -= many
+        self.regions[region].pages_taken.extend(list(range(first, first + many)))
         return first * PAGE_WORDS
 
     def first_row(self, many):
         """Return the first page of the first row of so many waiting pages, or the number of the next new page."""
+        if self.free < many:
+            return len(self.owners)
         row = 0
         for page, owner in enumerate(self.owners):
             row = row + 1 if owner == NOBODY else 0
