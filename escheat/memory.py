@@ -138,11 +138,11 @@ class Store:
         """Give a region consecutive pages, and return the address of the first one."""
         first = self.first_row(many)
         if first == len(self.owners):
-            self.owners.extend([NOBODY] * many)
             self.words.extend([0] * (many * PAGE_WORDS))
-            self.free += many
+        else:
+            self.free -= many
+        # New pages are appended by this.
         self.owners[first:first + many] = [region] * many
-        self.free -= many
         self.regions[region].pages_taken.extend(list(range(first, first + many)))
         return first * PAGE_WORDS
 
