@@ -58,6 +58,8 @@ class Store:
             address = self.take_pages(region, (words + PAGE_WORDS - 1) // PAGE_WORDS)
         else:
             address = self.take_room(region, words)
+        # The rest of a page can be written to before a cell is placed there.
+        self.blank(address, words)
         self.regions[region].words += words
         self.total += words
         self.note("cell", region, address)
@@ -69,8 +71,7 @@ class Store:
         ended = self.regions.pop(region)
         for page in ended.pages_taken:
             self.owners[page] = NOBODY
-            first = page * PAGE_WORDS
-            self.words[first:first + PAGE_WORDS] = [0] * PAGE_WORDS
+            self.blank(page * PAGE_WORDS, PAGE_WORDS)
         self.free += len(ended.pages_taken)
         self.total -= ended.words
         self.note("end", region, 0)
@@ -145,6 +146,10 @@ class Store:
         self.owners[first:first + many] = [region] * many
         self.regions[region].pages_taken.extend(list(range(first, first + many)))
         return first * PAGE_WORDS
+
+    def blank(self, address, many):
+        """Let so many words from an address on become 0."""
+        self.words[address:address + many] = [0] * many
 
     def first_row(self, many):
         """Return the first page of the first row of so many waiting pages, or the number of the next new page."""

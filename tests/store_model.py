@@ -33,6 +33,8 @@ class Model:
         self.cells[region].append(range(place, place + words))
         for page in range(place // 8, (place + words - 1) // 8 + 1):
             self.pages[page][0] = region
+        for address in self.cells[region][-1]:
+            self.write(address, 0)
         return place
 
     def row(self, many):

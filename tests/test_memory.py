@@ -156,6 +156,90 @@ class CellsTest(unittest.TestCase):
         self.assertEqual(list(store), [0] * 24)
 
 
+class WrittenBeforeTest(unittest.TestCase):
+    """Cells at addresses that were written to before, when they were the rest of a page."""
+
+    def filled(self, *words):
+        """A store with these cells in region 0, all words of whose pages are written: 100 and the address."""
+        store = Store()
+        store.begin()
+        for many in words:
+            store.cell(0, many)
+        for address in range(len(store)):
+            store.write(address, 100 + address)
+        return store
+
+    def test_the_word_of_the_issue(self):
+        store = Store()
+        store.begin()
+        store.cell(0, 3)
+        store.write(4, 5)
+        self.assertEqual(store.read(4), 5)
+        self.assertEqual(store.cell(0, 3), 3)
+        self.assertEqual([store.read(address) for address in range(8)], [0] * 8)
+
+    def test_only_the_words_of_the_cell(self):
+        for first in range(1, 8):
+            for words in range(1, 9 - first):
+                store = self.filled(first)
+                self.assertEqual(store.cell(0, words), first)
+                rest = range(100 + first + words, 108)
+                self.assertEqual(list(store), [*range(100, 100 + first)] + [0] * words + [*rest])
+
+    def test_one_after_the_other(self):
+        store = self.filled(1)
+        for address in range(1, 8):
+            self.assertEqual(store.cell(0, 1), address)
+            self.assertEqual(list(store), [100] + [0] * address + [*range(101 + address, 108)])
+
+    def test_what_is_written_to_the_cell_stays(self):
+        store = self.filled(2)
+        self.assertEqual(store.cell(0, 2), 2)
+        store.write(2, -7)
+        store.write(5, -8)
+        self.assertEqual(store.cell(0, 2), 4)
+        self.assertEqual(list(store), [100, 101, -7, 0, 0, 0, 106, 107])
+
+    def test_a_cell_on_a_new_page_changes_no_other_page(self):
+        for words in (6, 8, 9, 17):
+            store = self.filled(3)
+            self.assertEqual(store.cell(0, words), 8)
+            self.assertEqual(list(store), [*range(100, 108)] + [0] * (len(store) - 8))
+
+    def test_behind_a_cell_of_many_words(self):
+        """The rest of its last page stays as it is, and the cell goes to the rest of the page before."""
+        store = self.filled(3, 9)
+        self.assertEqual(store.cell(0, 4), 3)
+        self.assertEqual(list(store), [*range(100, 103)] + [0] * 4 + [*range(107, 124)])
+
+    def test_pages_of_other_regions(self):
+        store = Store()
+        for region in range(3):
+            store.begin()
+            store.cell(region, 4)
+        for address in range(24):
+            store.write(address, 1)
+        self.assertEqual(store.cell(1, 3), 12)
+        self.assertEqual(list(store), [1] * 12 + [0] * 3 + [1] * 9)
+
+    def test_a_page_that_is_used_again(self):
+        store = self.filled(5, 8)
+        store.end(0)
+        self.assertEqual(list(store), [0] * 16)
+        region = store.begin()
+        self.assertEqual(store.cell(region, 4), 0)
+        for address in range(8):
+            store.write(address, 9)
+        self.assertEqual(store.cell(region, 4), 4)
+        self.assertEqual(list(store), [9] * 4 + [0] * 12)
+
+    def test_refused_cells_change_nothing(self):
+        store = self.filled(3)
+        for region, words in ((0, 0), (0, -3), (1, 3), (-1, 3)):
+            self.assertIn(refused(lambda: store.cell(region, words)), ("region", "words"))
+            self.assertEqual(list(store), list(range(100, 108)))
+
+
 class PagesTest(unittest.TestCase):
     def gaps(self, *rows):
         """A store in which these pages wait, and the others up to 9 belong to region 0; the next region is 10."""
@@ -292,17 +376,20 @@ class ModelTest(unittest.TestCase):
             store = Store()
             cells, most, small = [], 0, True
             for deed in deeds(random.Random(seed), 80, 8 if seed % 2 else 20):
-                before = list(store)
+                before, older = list(store), list(cells)
                 found = do(store, deed)
                 if deed[0] == "cell" and isinstance(found, int):
                     cells.append((deed[1], range(found, found + deed[2])))
                     small = small and deed[2] <= 8
+                    self.assertEqual([store.read(address) for address in cells[-1][1]], [0] * deed[2])
                 if deed[0] == "end":
                     cells = [cell for cell in cells if cell[0] != deed[1]]
                 taken = [address for _, cell in cells for address in cell]
                 self.assertEqual(len(taken), len(set(taken)))
                 self.assertTrue(all(store.owner(address) == region for region, cell in cells for address in cell))
-                changed = [at for at in taken if at < len(before) and before[at] != store.read(at)]
+                # The words of a cell that has just been made become 0; those of the others stay.
+                stayed = [address for entry in older if entry in cells for address in entry[1]]
+                changed = [at for at in stayed if before[at] != store.read(at)]
                 self.assertLessEqual(set(changed), {deed[1]} if deed[0] == "write" else set())
                 self.assertLessEqual(store.held, 8 * store.pages)
                 self.assertEqual(store.held, len(taken))
