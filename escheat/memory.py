@@ -69,7 +69,7 @@ class Store:
         """End a current region, whose pages wait then, or raise StoreError."""
         self.expect_current(region)
         ended = self.regions.pop(region)
-        for page in ended.pages_taken:
+        for page in list(ended.pages_taken):
             self.owners[page] = NOBODY
             self.blank(page * PAGE_WORDS, PAGE_WORDS)
         self.free += len(ended.pages_taken)
